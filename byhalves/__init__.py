@@ -1,0 +1,1 @@
+"""Byhalves: shown figures that move only with their own truth."""

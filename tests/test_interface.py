@@ -1,0 +1,90 @@
+"""The names, files and arguments of the interface, and plain rules of the subset of Python."""
+
+import ast
+import importlib
+import inspect
+import pathlib
+import unittest
+
+PACKAGE = pathlib.Path(__file__).resolve().parent.parent / "byhalves"
+
+FUNCTIONS = {
+    "books": {"made_book": "thing", "is_book": "thing", "plain": "steps", "made_line": "book thing", "total": "book"},
+    "moves": {"made_history": "book thing"},
+    "tables": {"made_table": "book thing", "table_player": "book table"},
+    "runs": {
+        "run": "book player history",
+        "strays": "book state",
+        "stray": "book line state",
+        "within": "book player history bound",
+    },
+    "halves": {"halves": "book ties"},
+    "gaps": {"gap": "book line i"},
+    "packings": {"packing": "book line", "reach": "book line", "off": "book line"},
+}
+
+
+def sources():
+    return [(path, path.read_text(encoding="utf-8")) for path in sorted(PACKAGE.rglob("*.py"))]
+
+
+class InterfaceTest(unittest.TestCase):
+    def test_functions_and_their_arguments(self):
+        for file, functions in FUNCTIONS.items():
+            module = importlib.import_module("byhalves." + file)
+            for name, arguments in functions.items():
+                with self.subTest(file=file, name=name):
+                    function = getattr(module, name)
+                    self.assertEqual(function.__module__, module.__name__)
+                    self.assertEqual(list(inspect.signature(function).parameters), arguments.split())
+
+    def test_players_have_their_methods_themselves(self):
+        from byhalves.books import plain
+        from byhalves.halves import halves
+        from byhalves.tables import table_player
+
+        book = plain((4,))
+        stay = ((), 0)
+        for player in (halves(book, (0,)), table_player(book, ((stay, stay),))):
+            own = vars(player.__class__)
+            self.assertEqual(list(inspect.signature(own["copy"]).parameters), ["self"])
+            self.assertEqual(list(inspect.signature(own["moved"]).parameters), ["self", "part", "way"])
+
+
+class SubsetTest(unittest.TestCase):
+    def test_the_folder_holds_python_files_alone(self):
+        self.assertTrue((PACKAGE / "__init__.py").is_file())
+        for path in PACKAGE.rglob("*"):
+            if "__pycache__" not in path.parts:
+                self.assertTrue(path.is_dir() or path.suffix == ".py", path)
+
+    def test_sizes_and_signs(self):
+        for path, text in sources():
+            with self.subTest(path.name):
+                self.assertLessEqual(len(text.splitlines()), 399)
+                self.assertLessEqual(max(map(len, text.splitlines())), 120)
+                self.assertTrue(all(sign == "\n" or " " <= sign <= "~" for sign in text))
+
+    def test_functions_are_short(self):
+        for path, text in sources():
+            for node in ast.walk(ast.parse(text)):
+                if isinstance(node, ast.FunctionDef):
+                    with self.subTest(path.name, function=node.name):
+                        self.assertLessEqual(node.end_lineno - node.lineno + 1, 40)
+
+    def test_imports_name_the_file_that_defines(self):
+        library = {"heapq", "math", "itertools", "collections"}
+        for path, text in sources():
+            for node in ast.walk(ast.parse(text)):
+                self.assertNotIsInstance(node, ast.Import, path.name)
+                if isinstance(node, ast.ImportFrom) and node.module not in library:
+                    module = importlib.import_module(node.module)
+                    for alias in node.names:
+                        with self.subTest(path.name, name=alias.name):
+                            self.assertEqual(node.level, 0)
+                            told = getattr(module, alias.name)
+                            self.assertEqual(getattr(told, "__module__", node.module), node.module)
+
+
+if __name__ == "__main__":
+    unittest.main()
