@@ -17,6 +17,11 @@ def made_history(book, thing):
     return thing
 
 
+def history_formed(parts, thing):
+    """Whether thing is a history, of a book with so many parts."""
+    return isinstance(thing, tuple) and all([move_formed(parts, move) for move in thing])
+
+
 def move_formed(parts, thing):
     """Whether thing is a move, of a book with so many parts."""
     if not tuple_of(thing, 2):

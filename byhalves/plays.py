@@ -36,7 +36,16 @@ class Play:
         """The stray of each part now."""
         return part_strays(self._book, self._truths, self._shown)
 
+    def beyond(self, bound):
+        """Whether some part strays by more than a bound now."""
+        return any(abs(steps) > bound for steps in self.strays())
+
 
 def part_strays(book, truths, shown):
     """The stray of each part: its shown number in steps, less its truth."""
     return tuple([units * steps - truth for steps, truth, units in zip(book[0], truths, shown)])
+
+
+def line_stray(line, strays):
+    """The stray of a line, from those of the parts."""
+    return sum([weight * steps for weight, steps in zip(line, strays)])

@@ -4,7 +4,7 @@ from byhalves.books import made_book, made_line
 from byhalves.bounds import made_bound
 from byhalves.errors import Broken
 from byhalves.moves import made_history
-from byhalves.plays import Play, part_strays
+from byhalves.plays import Play, line_stray, part_strays
 
 
 def run(book, player, history):
@@ -27,7 +27,7 @@ def strays(book, state):
 def stray(book, line, state):
     """The stray of a line in a state."""
     made_line(book, line)
-    return sum([weight * steps for weight, steps in zip(line, strays(book, state))])
+    return line_stray(line, strays(book, state))
 
 
 def within(book, player, history, bound):
@@ -38,6 +38,6 @@ def within(book, player, history, bound):
     for index, (part, way) in enumerate(history):
         if not play.step(part, way):
             raise Broken(index)
-        if any(abs(steps) > bound for steps in play.strays()):
+        if play.beyond(bound):
             return index
     return None

@@ -38,3 +38,13 @@ class Follower:
     def moved(self, part, way):
         self.odd = not self.odd
         return () if self.odd else ((0, way),)
+
+
+class Still:
+    """Shows nothing but noughts."""
+
+    def copy(self):
+        return Still()
+
+    def moved(self, part, way):
+        return ()

@@ -21,6 +21,14 @@ FUNCTIONS = {
     "halves": {"halves": "book ties"},
     "gaps": {"gap": "book line i"},
     "packings": {"packing": "book line", "reach": "book line", "off": "book line"},
+    "papers": {"paper_right": "book line player bound paper"},
+    "breaker": {"breaker": "book line player bound", "off_history": "book line player bound"},
+    "leads": {"made_leads": "book thing", "best_leads": "book"},
+    "groups": {"grouped": "book leads"},
+    "owntotals": {"least_own": "book q", "own_total": "book state q"},
+    "closing": {"safe": "book line bound off", "can_keep": "book line bound off", "least_off": "book line bound"},
+    "keepers": {"keeper": "book line bound off"},
+    "publishers": {"made_names": "book names", "made_publisher": "book names thing"},
 }
 
 
@@ -40,12 +48,16 @@ class InterfaceTest(unittest.TestCase):
 
     def test_players_have_their_methods_themselves(self):
         from byhalves.books import plain
+        from byhalves.groups import grouped
         from byhalves.halves import halves
+        from byhalves.keepers import keeper
         from byhalves.tables import table_player
 
         book = plain((4,))
         stay = ((), 0)
-        for player in (halves(book, (0,)), table_player(book, ((stay, stay),))):
+        for player in (
+            halves(book, (0,)), table_player(book, ((stay, stay),)), grouped(book, (0,)), keeper(book, (1,), 4, 4)
+        ):
             own = vars(player.__class__)
             self.assertEqual(list(inspect.signature(own["copy"]).parameters), ["self"])
             self.assertEqual(list(inspect.signature(own["moved"]).parameters), ["self", "part", "way"])
