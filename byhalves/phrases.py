@@ -26,8 +26,8 @@ class Scope:
 
 
 def word_of(thing):
-    """The word with which thing begins; None if it is no tuple that begins with a text."""
-    if not isinstance(thing, tuple) or len(thing) == 0 or not isinstance(thing[0], str):
+    """What thing begins with, which is to be a word; None if it is no tuple, or empty."""
+    if not isinstance(thing, tuple) or len(thing) == 0:
         return None
     return thing[0]
 
