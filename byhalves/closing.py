@@ -5,7 +5,7 @@ from byhalves.bounds import made_bound
 from byhalves.errors import BadBound, TooLarge
 from byhalves.forms import number_from
 from byhalves.lots import Lot
-from byhalves.plays import line_stray
+from byhalves.standings import line_stray
 
 MOST_OFF = 2000000
 MOST_TUPLES = 20000

@@ -16,6 +16,11 @@ def tuple_of(thing, many):
     return isinstance(thing, tuple) and len(thing) == many
 
 
+def numbers_formed(thing, many):
+    """Whether thing is a tuple of just so many numbers."""
+    return tuple_of(thing, many) and all([a_number(one) for one in thing])
+
+
 def rising_parts(parts, thing):
     """Whether thing is a rising tuple of parts, of a book with so many parts."""
     if not isinstance(thing, tuple):

@@ -27,7 +27,12 @@ def move_formed(parts, thing):
     if not tuple_of(thing, 2):
         return False
     part, way = thing
-    return number_from(part, 0, parts - 1) and a_number(way) and way in (1, -1)
+    return number_from(part, 0, parts - 1) and way_formed(way)
+
+
+def way_formed(thing):
+    """Whether thing is the way of a move."""
+    return a_number(thing) and thing in (1, -1)
 
 
 def changes_formed(parts, thing):
@@ -44,8 +49,13 @@ def changes_formed(parts, thing):
 
 def changes_let(book, part, changes):
     """Whether the links of a book let these changes at a move of a part."""
+    return not parts_outside(book, part, changes)
+
+
+def parts_outside(book, part, changes):
+    """The parts of these changes that the links of a book do not let at a move of a part, rising."""
     linked = book[1][part]
-    return all(change[0] in linked for change in changes)
+    return [changed for changed, _ in changes if changed not in linked]
 
 
 def _change_formed(thing, least, most):

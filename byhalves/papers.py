@@ -5,7 +5,8 @@ from byhalves.bounds import made_bound
 from byhalves.errors import Refused
 from byhalves.moves import history_formed
 from byhalves.packings import reach
-from byhalves.plays import Play, line_stray
+from byhalves.plays import Play
+from byhalves.standings import line_stray
 
 # How many histories stand behind each word of a paper.
 HISTORIES = {"spread": 2, "bound": 1, "rule": 1}

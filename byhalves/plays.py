@@ -2,6 +2,7 @@
 
 from byhalves.books import part_count
 from byhalves.moves import changes_formed, changes_let
+from byhalves.standings import first_standing, parts_beyond
 
 
 class Play:
@@ -10,42 +11,40 @@ class Play:
     def __init__(self, book, player):
         self._book = book
         self._player = player.copy()
-        self._truths = [0] * part_count(book)
-        self._shown = [0] * part_count(book)
+        self._standing = first_standing(book)
+        self._answer = ()
+
+    def copy(self):
+        """A play that goes on from here; what is asked of the one is not asked of the other."""
+        other = Play(self._book, self._player)
+        other._standing = self._standing.copy()
+        return other
 
     def step(self, part, way):
         """Ask the copy about a move, and do what it tells; whether the move is not broken.
 
         Behind a broken move the play is over: nothing of that move is done.
         """
-        changes = self._player.moved(part, way)
-        if not changes_formed(part_count(self._book), changes):
+        self._answer = self._player.moved(part, way)
+        if not changes_formed(part_count(self._book), self._answer):
             return False
-        if not changes_let(self._book, part, changes):
+        if not changes_let(self._book, part, self._answer):
             return False
-        self._truths[part] += way
-        for changed, by in changes:
-            self._shown[changed] += by
+        self._standing.move(part, way, self._answer)
         return True
+
+    def answer(self):
+        """What the copy told at the last move, whatever it is."""
+        return self._answer
 
     def state(self):
         """The state now: truths and shown numbers."""
-        return tuple(self._truths), tuple(self._shown)
+        return self._standing.state()
 
     def strays(self):
         """The stray of each part now."""
-        return part_strays(self._book, self._truths, self._shown)
+        return self._standing.strays()
 
     def beyond(self, bound):
-        """Whether some part strays by more than a bound now."""
-        return any(abs(steps) > bound for steps in self.strays())
-
-
-def part_strays(book, truths, shown):
-    """The stray of each part: its shown number in steps, less its truth."""
-    return tuple([units * steps - truth for steps, truth, units in zip(book[0], truths, shown)])
-
-
-def line_stray(line, strays):
-    """The stray of a line, from those of the parts."""
-    return sum([weight * steps for weight, steps in zip(line, strays)])
+        """The parts that stray by more than a bound now, rising."""
+        return parts_beyond(self.strays(), bound)

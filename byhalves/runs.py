@@ -4,7 +4,8 @@ from byhalves.books import made_book, made_line
 from byhalves.bounds import made_bound
 from byhalves.errors import Broken
 from byhalves.moves import made_history
-from byhalves.plays import Play, line_stray, part_strays
+from byhalves.plays import Play
+from byhalves.standings import line_stray, part_strays
 
 
 def run(book, player, history):
@@ -21,7 +22,7 @@ def strays(book, state):
     """The stray of each part in a state."""
     made_book(book)
     truths, shown = state
-    return part_strays(book, truths, shown)
+    return part_strays(book[0], truths, shown)
 
 
 def stray(book, line, state):
