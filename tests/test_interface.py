@@ -29,7 +29,65 @@ FUNCTIONS = {
     "closing": {"safe": "book line bound off", "can_keep": "book line bound off", "least_off": "book line bound"},
     "keepers": {"keeper": "book line bound off"},
     "publishers": {"made_names": "book names", "made_publisher": "book names thing"},
+    "programs": {
+        "program": "book names publisher",
+        "program_at": "book names publisher state",
+        "told": "book names publisher state move",
+    },
+    "judging": {
+        "judge": "book player bound history",
+        "spread": "book line player histories",
+        "lines_off": "book lines player history",
+    },
+    "logs": {"log_of": "book player history", "audit": "book lines bound log", "fits": "book player log"},
+    "reports": {"report": "book names lines state"},
+    "reader": {"read_publisher": "book names text"},
+    "readbooks": {
+        "read_book": "text",
+        "read_line": "book names text",
+        "read_history": "book names text",
+        "read_paper": "book names text",
+    },
+    "printer": {
+        "print_book": "book names",
+        "print_publisher": "book names publisher",
+        "print_line": "book names line",
+        "print_history": "book names history",
+        "print_paper": "book names paper",
+    },
 }
+
+CLASSES = {
+    ("feeds", "Feed"): {
+        "__init__": "self, book, player",
+        "move": "self, part, way, many=1",
+        "correct": "self, index, moves",
+        "editions": "self",
+        "history": "self, edition=None",
+        "state": "self, edition=None",
+        "log": "self, edition=None",
+        "differences": "self, one, other",
+    },
+    ("desk", "Desk"): {
+        "__init__": "self, names, book",
+        "publisher": "self, word, publisher",
+        "line": "self, word, line",
+        "begin": "self, feed, word",
+        "feed": "self, word",
+        "report": "self, word",
+        "wrongs": "self, word, bound",
+        "paper": "self, word, line, bound",
+        "off": "self, line",
+        "spread": "self, line",
+        "row": "self, text",
+    },
+}
+
+ERRORS = (
+    "Refused BadBook BadLine BadHistory BadHistories BadBound BadTies BadPart BadLeads BadState Broken TooLarge NotAlike "
+    "NotPlain NoKeeper BadNames BadPublisher TooMany BadLog BadMany BadIndex BadEdition BadName NoWord Twice BadText "
+    "NoName BadNumber TooDeep BadPaper BadTable"
+).split()
 
 
 def sources():
@@ -46,17 +104,45 @@ class InterfaceTest(unittest.TestCase):
                     self.assertEqual(function.__module__, module.__name__)
                     self.assertEqual(list(inspect.signature(function).parameters), arguments.split())
 
+    def test_classes_and_their_methods(self):
+        for (file, name), methods in CLASSES.items():
+            module = importlib.import_module("byhalves." + file)
+            self.assertEqual(getattr(module, name).__module__, module.__name__)
+            own = vars(getattr(module, name))
+            for method, arguments in methods.items():
+                with self.subTest(file=file, name=name, method=method):
+                    self.assertEqual(str(inspect.signature(own[method])), f"({arguments})")
+
+    def test_errors(self):
+        module = importlib.import_module("byhalves.errors")
+        for name in ERRORS:
+            with self.subTest(name):
+                self.assertEqual(getattr(module, name).__module__, module.__name__)
+                self.assertEqual(str(inspect.signature(getattr(module, name))), "(what)")
+
+    def test_names_are_defined_in_their_own_files(self):
+        for file in [*FUNCTIONS, *(file for file, _ in CLASSES)]:
+            tree = ast.parse((PACKAGE / (file + ".py")).read_text(encoding="utf-8"))
+            defined = {node.name for node in tree.body if isinstance(node, (ast.FunctionDef, ast.ClassDef))}
+            wanted = {*FUNCTIONS.get(file, ()), *(name for other, name in CLASSES if other == file)}
+            with self.subTest(file):
+                self.assertLessEqual(wanted, defined)
+
     def test_players_have_their_methods_themselves(self):
         from byhalves.books import plain
         from byhalves.groups import grouped
         from byhalves.halves import halves
         from byhalves.keepers import keeper
+        from byhalves.programs import program, program_at
         from byhalves.tables import table_player
 
         book = plain((4,))
-        stay = ((), 0)
+        stay, empty = ((), 0), ((), (), ())
+        programs = (program(book, ("a",), empty), program_at(book, ("a",), empty, ((0,), (0,), (), ())))
+        for player in programs:
+            self.assertEqual(list(inspect.signature(vars(player.__class__)["state"]).parameters), ["self"])
         for player in (
-            halves(book, (0,)), table_player(book, ((stay, stay),)), grouped(book, (0,)), keeper(book, (1,), 4, 4)
+            halves(book, (0,)), table_player(book, ((stay, stay),)), grouped(book, (0,)), keeper(book, (1,), 4, 4), *programs
         ):
             own = vars(player.__class__)
             self.assertEqual(list(inspect.signature(own["copy"]).parameters), ["self"])
