@@ -107,7 +107,8 @@ class Stepper:
         if word == "linked":
             return self.which(rest[0]) in self.book[1][self.moved]
         told = [self.test(each) for each in rest]
-        return {"not": lambda: not told[0], "and": lambda: told[0] and told[1], "or": lambda: told[0] or told[1]}[word]()
+        return {"not": lambda: not told[0], "and": lambda: told[0] and told[1],
+            "or": lambda: told[0] or told[1]}[word]()
 
 
 class Drawer:
@@ -166,7 +167,8 @@ class Drawer:
                 divisor = self.chance.choice((("num", self.chance.randint(1, 5)), ("steps", self.part(each))))
                 return word, self.number(deep - 1, each), divisor
             return word, self.number(deep - 1, each), self.number(deep - 1, each)
-        words = ["num", "num", "truth", "shown", "steps", "way"] + ["cell"] * bool(self.cells) + ["row"] * bool(self.rows)
+        words = ["num", "num", "truth", "shown", "steps",
+            "way"] + ["cell"] * bool(self.cells) + ["row"] * bool(self.rows)
         word = self.chance.choice(words)
         if word == "num":
             return word, self.chance.choice((0, 1, 2, 3, 1000, 1000000) if self.large else (0, 1, 2, 3, 4, 7))

@@ -4,7 +4,8 @@ from byhalves.books import plain
 from byhalves.breaker import breaker
 from byhalves.desk import Desk
 from byhalves.errors import (
-    BadBook, BadBound, BadHistory, BadIndex, BadLine, BadName, BadNames, BadPublisher, Broken, NoWord, TooLarge, TooMany, Twice,
+    BadBook, BadBound, BadHistory, BadIndex, BadLine, BadName, BadNames, BadPublisher, Broken, NoWord, TooLarge,
+    TooMany, Twice,
 )
 from byhalves.feeds import Feed
 from byhalves.logs import audit
@@ -26,7 +27,8 @@ OUTSIDE = ((), (), (("show", ("part", 0), ("add", ("shown", ("part", 0)), ("num"
 UP = (0, 1)
 
 NO_NAMES = (
-    None, True, 0, (), ("a",), "", "A", "1a", "a b", "a" * 13, "it", "line", "spread", "parts", "rule", "a:", " a", "a_b", ("half",),
+    None, True, 0, (), ("a",), "", "A", "1a", "a b", "a" * 13, "it", "line", "spread", "parts", "rule", "a:", " a",
+    "a_b", ("half",),
 )
 
 
@@ -44,8 +46,10 @@ class DeskCase(Refusals):
         told = []
         for word in ("f", "g", "half", "still", "sum", "x", "publisher"):
             for ask in (
-                lambda: desk.report(word), lambda: desk.wrongs(word, 1), lambda: desk.off(word), lambda: desk.spread(word),
-                lambda: desk.paper(word, "sum", 3), lambda: desk.paper("half", word, 3), lambda: desk.feed(word).editions(),
+                lambda: desk.report(word), lambda: desk.wrongs(word, 1), lambda: desk.off(word),
+                lambda: desk.spread(word),
+                lambda: desk.paper(word, "sum", 3), lambda: desk.paper("half", word, 3),
+                lambda: desk.feed(word).editions(),
                 lambda: [desk.feed(word).history(number + 1) for number in range(desk.feed(word).editions())],
             ):
                 try:

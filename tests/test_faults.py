@@ -34,12 +34,14 @@ def below(number):
 
 
 FAULTS = (
-    FAULT, ("mod", ONE, ("num", 0)), ("div", ONE, below(ONE)), ("mod", ONE, below(ONE)), ("div", ("num", 0), ("num", 0)),
+    FAULT, ("mod", ONE, ("num", 0)), ("div", ONE, below(ONE)), ("mod", ONE, below(ONE)),
+    ("div", ("num", 0), ("num", 0)),
     ("div", below(ONE), below(("num", 4))), BEYOND, below(BEYOND), ("sub", below(MOST), ONE), ("mul", MOST, ("num", 2)),
     ("mul", MOST, MILLION), ("add", MOST, MOST),
     # The whole would lie within.
     ("sub", BEYOND, ONE), ("sub", BEYOND, BEYOND), ("mul", BEYOND, ("num", 0)), ("mul", ("num", 0), BEYOND),
-    ("div", ("mul", MOST, MILLION), MOST), ("mod", BEYOND, ("num", 7)), ("div", ONE, BEYOND), ("mul", FAULT, ("num", 0)),
+    ("div", ("mul", MOST, MILLION), MOST), ("mod", BEYOND, ("num", 7)), ("div", ONE, BEYOND),
+    ("mul", FAULT, ("num", 0)),
     ("add", ("sub", below(MOST), ONE), ("num", 2)),
 )
 NO_FAULTS = (
@@ -97,7 +99,8 @@ class WhereTest(FaultCase):
     def test_in_each_test(self):
         for number in FAULTS:
             for told_there in (
-                ("eq", number, ONE), ("eq", ONE, number), ("less", number, ONE), ("less", ONE, number), ("not", ("eq", number, ONE)),
+                ("eq", number, ONE), ("eq", ONE, number), ("less", number, ONE), ("less", ONE, number),
+                ("not", ("eq", number, ONE)),
                 ("not", ("not", ("less", ONE, number))),
             ):
                 with self.subTest(told_there):
@@ -195,7 +198,8 @@ class ToldTest(FaultCase):
         self.fault_at((1, 0, 0), SET, ("if", YES, (wrong,), (wrong,)))
         self.fault_at((1, 1, 2), SET, ("if", NO, (wrong,), (SET, SET, wrong)))
         self.fault_at((0, 0, 1), ("each", (SET, wrong)))
-        self.fault_at((1, 0, 1, 1, 0, 0, 3), SET, ("if", YES, (SET, ("if", NO, (), (("each", (SET, SET, SET, wrong)),))), ()))
+        self.fault_at((1, 0, 1, 1, 0, 0, 3), SET, ("if", YES,
+            (SET, ("if", NO, (), (("each", (SET, SET, SET, wrong)),))), ()))
         self.fault_at((29,), *((SET,) * 29), wrong)
 
     def test_a_fault_in_a_test_is_that_of_its_if(self):
@@ -247,7 +251,8 @@ class ErrorsTest(FaultCase):
     def test_what_is_no_move(self):
         first = ((0, 0), (0, 0), (), ())
         for wrong in (
-            None, True, 0, "01", (), (0,), (0, 1, 1), (2, 1), (-1, 1), (True, 1), (0, True), (0, 0), (0, 2), ("0", 1), [0, 1],
+            None, True, 0, "01", (), (0,), (0, 1, 1), (2, 1), (-1, 1), (True, 1), (0, True), (0, 0), (0, 2), ("0", 1),
+            [0, 1],
             ((0, 1),), (0, None), (0, (1,)), nested(0, 49),
         ):
             with self.subTest(wrong):

@@ -259,7 +259,8 @@ class CorrectTest(FeedCase):
         feed = self.moved()
         for wrong in (None, 0, "", [], [UP], {}):
             self.refused(BadHistory, -1, feed.correct, 0, wrong)
-        for what, wrong in ((0, UP), (1, (UP, None)), (0, ((2, 1), None)), (2, (UP, UP, (0, True), UP)), (0, ([0, 1],))):
+        for what, wrong in ((0, UP), (1, (UP, None)), (0, ((2, 1), None)), (2, (UP, UP, (0, True), UP)),
+            (0, ([0, 1],))):
             self.refused(BadHistory, what, feed.correct, 4, wrong)
         self.same(self.all_told(feed), self.all_told(self.moved()))
 

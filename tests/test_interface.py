@@ -84,8 +84,8 @@ CLASSES = {
 }
 
 ERRORS = (
-    "Refused BadBook BadLine BadHistory BadHistories BadBound BadTies BadPart BadLeads BadState Broken TooLarge NotAlike "
-    "NotPlain NoKeeper BadNames BadPublisher TooMany BadLog BadMany BadIndex BadEdition BadName NoWord Twice BadText "
+    "Refused BadBook BadLine BadHistory BadHistories BadBound BadTies BadPart BadLeads BadState Broken TooLarge "
+    "NotAlike NotPlain NoKeeper BadNames BadPublisher TooMany BadLog BadMany BadIndex BadEdition BadName NoWord Twice BadText "
     "NoName BadNumber TooDeep BadPaper BadTable"
 ).split()
 
@@ -142,7 +142,8 @@ class InterfaceTest(unittest.TestCase):
         for player in programs:
             self.assertEqual(list(inspect.signature(vars(player.__class__)["state"]).parameters), ["self"])
         for player in (
-            halves(book, (0,)), table_player(book, ((stay, stay),)), grouped(book, (0,)), keeper(book, (1,), 4, 4), *programs
+            halves(book, (0,)), table_player(book, ((stay, stay),)), grouped(book, (0,)), keeper(book, (1,), 4, 4),
+            *programs
         ):
             own = vars(player.__class__)
             self.assertEqual(list(inspect.signature(own["copy"]).parameters), ["self"])

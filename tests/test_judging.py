@@ -18,10 +18,14 @@ UP = (0, 1)
 
 # What a player may tell at a move of part 0 of LINKED that is no changes at all.
 NO_CHANGES = (
-    None, True, False, 0, 1, 7, "", "ab", "01", [], [(0, 1)], [[0, 1]], {}, {0: 1}, {(0, 1)}, (0, 1), (None,), ([0, 1],),
-    ("01",), ((0,),), ((0, 1, 1),), ((),), (((0, 1),),), ((3, 1),), ((-1, 1),), ((True, 1),), ((False, 1),), (("0", 1),),
-    ((None, 1),), ((1, 1), (0, 1)), ((0, 1), (0, 1)), ((0, 1), (1, 1), (1, -1)), ((2, 1), (1, 1)), ((0, 0),), ((0, True),),
-    ((0, "1"),), ((0, None),), ((0, (1,)),), ((0, 1), (1, 0)), ((2, 0),), ((2, 1), None), nested(1, 50), (nested(1, 48), 1),
+    None, True, False, 0, 1, 7, "", "ab", "01", [], [(0, 1)], [[0, 1]], {}, {0: 1}, {(0, 1)}, (0, 1), (None,),
+    ([0, 1],),
+    ("01",), ((0,),), ((0, 1, 1),), ((),), (((0, 1),),), ((3, 1),), ((-1, 1),), ((True, 1),), ((False, 1),),
+    (("0", 1),),
+    ((None, 1),), ((1, 1), (0, 1)), ((0, 1), (0, 1)), ((0, 1), (1, 1), (1, -1)), ((2, 1), (1, 1)), ((0, 0),),
+    ((0, True),),
+    ((0, "1"),), ((0, None),), ((0, (1,)),), ((0, 1), (1, 0)), ((2, 0),), ((2, 1), None), nested(1, 50),
+    (nested(1, 48), 1),
     b"01", 1.5, ((0, 1.0),), object, Still(),
 )
 
@@ -119,7 +123,8 @@ class JudgeTest(Refusals):
         for _ in range(1500):
             book = some_book(chance, 3)
             player = chance.choice((
-                Still(), Follower(), some_halves(chance, book), some_table(chance, book), some_table(chance, book, breaks=True),
+                Still(), Follower(), some_halves(chance, book), some_table(chance, book),
+                some_table(chance, book, breaks=True),
                 program(book, part_names(book), some_publisher(chance, book)),
             ))
             history = some_history(chance, book, 10)
@@ -207,7 +212,8 @@ class SpreadTest(Refusals):
                 self.refused(BadHistories, -1, spread, BOOK, (1, 1), Still(), wrong)
 
     def test_what_is_no_history(self):
-        for wrong in (None, 0, "", [], [UP], (UP, None), UP, (UP, (2, 1)), ((0, 0),), ((0, True),), nested(0, 48), (None,)):
+        for wrong in (None, 0, "", [], [UP], (UP, None), UP, (UP, (2, 1)), ((0, 0),), ((0, True),), nested(0, 48),
+            (None,)):
             with self.subTest(wrong):
                 player = Scripted((None,))
                 self.refused(BadHistories, 0, spread, BOOK, (1, 1), player, (wrong,))
@@ -262,7 +268,8 @@ class LinesOffTest(Refusals):
         for wrong in (None, True, 0, "", "ab", [], [(1, 1)], {}):
             self.refused(BadLine, -1, lines_off, BOOK, wrong, player, None)
         for what, wrong in (
-            (-1, None), (-1, 1), (-1, "ab"), (-1, ()), (-1, (1,)), (-1, (1, 1, 1)), (-1, [1, 1]), (0, (0, 0)), (0, (21, 0)),
+            (-1, None), (-1, 1), (-1, "ab"), (-1, ()), (-1, (1,)), (-1, (1, 1, 1)), (-1, [1, 1]), (0, (0, 0)),
+            (0, (21, 0)),
             (0, (-21, None)), (1, (1, None)), (1, (1, True)), (0, (True, 1)), (1, (0, "1")), (1, (20, -21)),
             (-1, nested(1, 47)), (0, (nested(1, 47), 1)),
         ):

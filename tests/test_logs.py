@@ -19,7 +19,8 @@ THREE = (UP, UP, UP)
 LOG = ((UP, ()), (UP, ((0, 1),)), (UP, ()))
 
 NO_ENTRIES = (
-    None, True, 0, "", "ab", [], [UP, ()], (), (UP,), (UP, (), ()), ((), UP), (None, ()), (UP, None), (UP, 0), (UP, "ab"),
+    None, True, 0, "", "ab", [], [UP, ()], (), (UP,), (UP, (), ()), ((), UP), (None, ()), (UP, None), (UP, 0),
+    (UP, "ab"),
     ([0, 1], ()), (UP, []), ((2, 1), ()), ((-1, 1), ()), ((0, 0), ()), ((0, 2), ()), ((True, 1), ()), ((0, True), ()),
     ((0, 1, 1), ()), ((0,), ()), (UP, (0, 1)), (UP, (None,)), (UP, ((0,),)), (UP, ((0, 1, 1),)), (UP, ((2, 1),)),
     (UP, ((-1, 1),)), (UP, ((True, 1),)), (UP, (("0", 1),)), (UP, ((0, 0),)), (UP, ((0, True),)), (UP, ((0, None),)),
@@ -124,7 +125,8 @@ class AuditTest(Refusals):
     def test_bounds(self):
         log = ((UP, ((0, 2500),)), (UP, ((0, 1),)), ((1, 1), ((1, -2500),)))
         self.same(audit(BOOK, (), 10000, log)[3], ((1, "stray", 0), (2, "stray", 0), (2, "stray", 1)))
-        self.same(audit(plain((1,)), (), 0, ((UP, ((0, 1),)), (UP, ()), (UP, ())))[3], ((1, "stray", 0), (2, "stray", 0)))
+        self.same(audit(plain((1,)), (), 0, ((UP, ((0, 1),)), (UP, ()), (UP, ())))[3],
+            ((1, "stray", 0), (2, "stray", 0)))
         for bound in (-1, 10001, True, False, None, "1", (), 10 ** 900):
             self.refused(BadBound, 0, audit, BOOK, (), bound, None)
             self.refused(BadBound, 0, audit, BOOK, ((1, 1),), bound, LOG)
@@ -207,7 +209,8 @@ class AuditTest(Refusals):
         chance = random.Random(422)
         right = 0
         for _ in range(6000):
-            entries = [some_value(chance, 3) if chance.random() < 0.3 else (UP, some_value(chance, 2)) for _ in range(2)]
+            entries = [some_value(chance, 3) if chance.random() < 0.3 else (UP,
+                some_value(chance, 2)) for _ in range(2)]
             value = tuple(entries[:chance.randint(0, 2)])
             wrongs = [index for index, entry in enumerate(value) if not right_entry(entry)]
             if wrongs:

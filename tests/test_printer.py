@@ -45,7 +45,8 @@ class WholeTest(PrinterCase):
         s, t = B, ("eq", WAY, ONE)
         statement = ("if", ("and", ("or", s, t), ("not", ("and", s, t))), (),
                      (("set", "c", ("sub", ("cell", "c"), ("add", WAY, ONE))),))
-        self.told("if { linked bob or way = 1 } and not { linked bob and way = 1 } {} else { c := c - (way + 1) }", statement)
+        self.told("if { linked bob or way = 1 } and not { linked bob and way = 1 } {} else { c := c - (way + 1) }",
+            statement)
 
     def test_the_texts_of_the_reader(self):
         for text in (
@@ -56,9 +57,11 @@ class WholeTest(PrinterCase):
 
     def test_cells_and_rows(self):
         for publisher, text in (
-            (((), (), ()), ""), (((("c", -5),), (), ()), "cells c -5;"), (((), (("r", 0), ("s", -1)), ()), "rows r 0, s -1;"),
+            (((), (), ()), ""), (((("c", -5),), (), ()), "cells c -5;"),
+            (((), (("r", 0), ("s", -1)), ()), "rows r 0, s -1;"),
             (((("c", 1), ("d", 1000000)), (("r", -1000000),), ()), "cells c 1, d 1000000; rows r -1000000;"),
-            (((("c", 1),), (), (("set", "c", ONE),)), "cells c 1; c := 1"), (((), (("r", 1),), (("each", ()),)), "rows r 1; each {}"),
+            (((("c", 1),), (), (("set", "c", ONE),)), "cells c 1; c := 1"),
+            (((), (("r", 1),), (("each", ()),)), "rows r 1; each {}"),
             (((), (), (("each", ()), ("each", ()))), "each {}; each {}"),
         ):
             with self.subTest(text):
@@ -93,7 +96,8 @@ class StatementTest(PrinterCase):
         self.told("if linked ann { c := 1 }", ("if", A, (one,), ()))
         self.told("if linked ann {} else { d := way }", ("if", A, (), (other,)))
         self.told("if linked ann { c := 1; d := way } else { d := way; c := 1 }", ("if", A, (one, other), (other, one)))
-        self.told("if linked ann { if linked bob {} else { c := 1 } }; c := 1", ("if", A, (("if", B, (), (one,)),), ()), one)
+        self.told("if linked ann { if linked bob {} else { c := 1 } }; c := 1",
+            ("if", A, (("if", B, (), (one,)),), ()), one)
         self.told("if linked ann { each { if linked it {} } } else { each {} }",
                   ("if", A, (("each", (("if", ("linked", IT), (), ()),)),), (("each", ()),)))
 
@@ -146,7 +150,8 @@ class NumberTest(PrinterCase):
 class ConditionTest(PrinterCase):
     def test_bare_ones(self):
         for text, condition in (
-            ("1 = way", ("eq", ONE, WAY)), ("1 < 1 + 1", ("less", ONE, ("add", ONE, ONE))), ("same ann, moved", ("same", ANN, MOVED)),
+            ("1 = way", ("eq", ONE, WAY)), ("1 < 1 + 1", ("less", ONE, ("add", ONE, ONE))),
+            ("same ann, moved", ("same", ANN, MOVED)),
             ("linked bob", B), ("1 + 1 = 1 * (1 - 1)", ("eq", ("add", ONE, ONE), ("mul", ONE, ("sub", ONE, ONE)))),
         ):
             with self.subTest(text):
@@ -156,10 +161,13 @@ class ConditionTest(PrinterCase):
         a, b, c = "linked ann", "linked bob", "linked moved"
         for text, condition in (
             (f"{a} or {b} or {c}", ("or", ("or", A, B), C)), (f"{a} or {{ {b} or {c} }}", ("or", A, ("or", B, C))),
-            (f"{a} and {b} and {c}", ("and", ("and", A, B), C)), (f"{a} and {{ {b} and {c} }}", ("and", A, ("and", B, C))),
+            (f"{a} and {b} and {c}", ("and", ("and", A, B), C)),
+            (f"{a} and {{ {b} and {c} }}", ("and", A, ("and", B, C))),
             (f"{a} and {b} or {c}", ("or", ("and", A, B), C)), (f"{a} or {b} and {c}", ("or", A, ("and", B, C))),
-            (f"{{ {a} or {b} }} and {c}", ("and", ("or", A, B), C)), (f"{a} and {{ {b} or {c} }}", ("and", A, ("or", B, C))),
-            (f"not {a}", ("not", A)), (f"not not {a}", ("not", ("not", A))), (f"not {{ {a} and {b} }}", ("not", ("and", A, B))),
+            (f"{{ {a} or {b} }} and {c}", ("and", ("or", A, B), C)),
+            (f"{a} and {{ {b} or {c} }}", ("and", A, ("or", B, C))),
+            (f"not {a}", ("not", A)), (f"not not {a}", ("not", ("not", A))),
+            (f"not {{ {a} and {b} }}", ("not", ("and", A, B))),
             (f"not {{ {a} or {b} }}", ("not", ("or", A, B))), (f"not {a} and {b}", ("and", ("not", A), B)),
             (f"{a} and not {b}", ("and", A, ("not", B))), (f"not {a} or not {b}", ("or", ("not", A), ("not", B))),
             ("not 1 = 1", ("not", ("eq", ONE, ONE))), ("not same ann, bob", ("not", ("same", ANN, BOB))),

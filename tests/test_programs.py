@@ -163,7 +163,8 @@ class NumberTest(ProgramCase):
         for number, first, later in (
             (("num", 0), 0, 0), (("num", 1000000), 1000000, 1000000), (("cell", "c"), -5, 40),
             (("row", "r", part(0)), 6, 50), (("row", "r", part(2)), 6, 52), (("row", "r", MOVED), 6, 52),
-            (("truth", part(0)), 0, 3), (("truth", part(1)), 0, -8), (("truth", part(2)), -1, 19), (("truth", MOVED), -1, 19),
+            (("truth", part(0)), 0, 3), (("truth", part(1)), 0, -8), (("truth", part(2)), -1, 19),
+            (("truth", MOVED), -1, 19),
             (("shown", part(0)), 0, 11), (("shown", part(1)), 0, -12), (("shown", MOVED), 0, 13),
             (("steps", part(0)), 4, 4), (("steps", part(1)), 6, 6), (("steps", MOVED), 10, 10), (WAY, -1, -1),
         ):
@@ -201,7 +202,8 @@ class ConditionTest(ProgramCase):
     def test_comparisons(self):
         for word, one, other, told in (
             ("eq", 1, 1, True), ("eq", 1, 2, False), ("eq", 2, 1, False), ("eq", -3, -3, True), ("eq", -3, 3, False),
-            ("less", 1, 1, False), ("less", 1, 2, True), ("less", 2, 1, False), ("less", -3, 3, True), ("less", -3, -4, False),
+            ("less", 1, 1, False), ("less", 1, 2, True), ("less", 2, 1, False), ("less", -3, 3, True),
+            ("less", -3, -4, False),
         ):
             with self.subTest(word, one=one, other=other):
                 self.assertIs(self.held((word, num(one), num(other))), told)

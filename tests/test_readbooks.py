@@ -63,12 +63,13 @@ class BookTest(TextRefusals):
 
     def test_what_has_to_stand(self):
         self.wrongs(
-            BadText, "|part a 1", "|a 1", "|links a: a", "parts|", "parts |;", "parts |1 a", "parts a|", "parts a|, b 1",
-            "parts a 1 |b 2", "parts a 1|: b", "parts a 1;|", "parts a 1;|a: a", "parts a 1; |link a: a", "parts a 1; links|",
-            "parts a 1; links |; a: a", "parts a 1; links a:|", "parts a 1; links a: |", "parts a 1; links a|", "parts a 1; links a|, a",
-            "parts a 1; links a: |; a", "parts a 1; links a: |1", "parts a 1; links a: a |a", "parts a 1; links a: a |: a",
-            "parts a 1; links a: a;|", "parts a 1; links a: a,|", "parts a 1; links a: a; |links a: a", "|PARTS a 1", "|",
-            "parts a 1; links |1: a", "parts |parts 1", "parts |it 1",
+            BadText, "|part a 1", "|a 1", "|links a: a", "parts|", "parts |;", "parts |1 a", "parts a|",
+            "parts a|, b 1", "parts a 1 |b 2", "parts a 1|: b", "parts a 1;|", "parts a 1;|a: a",
+            "parts a 1; |link a: a", "parts a 1; links|", "parts a 1; links |; a: a", "parts a 1; links a:|",
+            "parts a 1; links a: |", "parts a 1; links a|", "parts a 1; links a|, a", "parts a 1; links a: |; a",
+            "parts a 1; links a: |1", "parts a 1; links a: a |a", "parts a 1; links a: a |: a",
+            "parts a 1; links a: a;|", "parts a 1; links a: a,|", "parts a 1; links a: a; |links a: a", "|PARTS a 1",
+            "|", "parts a 1; links |1: a", "parts |parts 1", "parts |it 1",
         )
 
     def test_names_of_a_row(self):
@@ -132,7 +133,10 @@ class LineTest(TextRefusals):
             self.same(read_line(LINKED, CY, f"line -{weight} bob"), (0, -weight, 0))
         for weight in ("0", "21", "100", "9999999"):
             self.wrongs(BadNumber, f"line |{weight} bob", f"line -|{weight} !", f"line 1 ann, - |{weight}")
-        self.wrongs(BadText, "line -|-1 bob", "line |+1 bob", "line |bob", "line |01 bob", "line - |bob", "line -|", "line |1bob")
+        self.wrongs(
+            BadText, "line -|-1 bob", "line |+1 bob", "line |bob", "line |01 bob", "line - |bob", "line -|",
+            "line |1bob",
+        )
 
     def test_names(self):
         self.wrongs(NoName, "line 1 |dee, 0 !", "line 1 ann, 1 |dee!")
@@ -140,8 +144,9 @@ class LineTest(TextRefusals):
 
     def test_what_has_to_stand(self):
         self.wrongs(
-            BadText, "|", "|1 ann", "|lines 1 ann", "line|", "line |,", "line 1|", "line 1 |1", "line 1|, 2 ann", "line 1 ann |2 bob",
-            "line 1 ann,|", "line 1 ann|;", "line 1 ann, |line 2 bob", "|line1 ann", "line 1 |line",
+            BadText, "|", "|1 ann", "|lines 1 ann", "line|", "line |,", "line 1|", "line 1 |1", "line 1|, 2 ann",
+            "line 1 ann |2 bob", "line 1 ann,|", "line 1 ann|;", "line 1 ann, |line 2 bob", "|line1 ann",
+            "line 1 |line",
         )
 
     def test_read_of_what_is_told(self):
@@ -193,8 +198,9 @@ class HistoryTest(TextRefusals):
         self.same(read_history(BOOK, NAMES, "ann up 4999, bob up"), (UP,) * 4999 + ((1, 1),))
         self.same(len(read_history(BOOK, NAMES, ", ".join(["ann up 1000"] * 5))), 5000)
         self.wrongs(
-            TooMany, "ann up 5000, |bob up", "ann up 4999, |bob up 2, ann up", "ann up 5000, |bob up!", "ann up 5000, |bob up 05",
-            "ann up 5000, |bob up, cy up", "ann up 5000, |ann up 5000", "ann up 4999, ann up, |ann up ann",
+            TooMany, "ann up 5000, |bob up", "ann up 4999, |bob up 2, ann up", "ann up 5000, |bob up!",
+            "ann up 5000, |bob up 05", "ann up 5000, |bob up, cy up", "ann up 5000, |ann up 5000",
+            "ann up 4999, ann up, |ann up ann",
         )
         # It is asked when the turn is read: these words stand in the turn itself.
         self.wrong(NoName, "ann up 5000, |cy up")
@@ -203,8 +209,9 @@ class HistoryTest(TextRefusals):
 
     def test_what_has_to_stand(self):
         self.wrongs(
-            BadText, "|up", "|,", "|3", "|/", "ann|", "ann |3", "ann |,", "ann |bob", "ann up |up", "ann up,|", "ann up 3 |3",
-            "ann up 3 |bob up", "ann up 3,|", "ann up ,|, bob up", "ann up|; bob up", "ann up |/", "ann up, |/", "ann up 3, |3",
+            BadText, "|up", "|,", "|3", "|/", "ann|", "ann |3", "ann |,", "ann |bob", "ann up |up", "ann up,|",
+            "ann up 3 |3", "ann up 3 |bob up", "ann up 3,|", "ann up ,|, bob up", "ann up|; bob up", "ann up |/",
+            "ann up, |/", "ann up 3, |3",
         )
 
     def test_names(self):
@@ -247,8 +254,10 @@ class HistoryTest(TextRefusals):
 
 class PaperTest(TextRefusals):
     PAPERS = (
-        (("spread", (), (UP, UP)), "spread / ann up 2"), (("spread", (UP, UP), ()), "spread ann up 2 /"), (("spread", (), ()), "spread /"),
-        (("spread", (UP, (1, -1)), ((1, 1),)), "spread ann up, bob down / bob up"), (("bound", ()), "bound"), (("rule", ()), "rule"),
+        (("spread", (), (UP, UP)), "spread / ann up 2"), (("spread", (UP, UP), ()), "spread ann up 2 /"),
+        (("spread", (), ()), "spread /"),
+        (("spread", (UP, (1, -1)), ((1, 1),)), "spread ann up, bob down / bob up"), (("bound", ()), "bound"),
+        (("rule", ()), "rule"),
         (("bound", ((1, -1),) * 12), "bound bob down 12"), (("rule", (UP, (1, 1))), "rule ann up, bob up"),
     )
 
@@ -265,16 +274,19 @@ class PaperTest(TextRefusals):
 
     def test_what_has_to_stand(self):
         self.wrongs(
-            BadText, "|", "|ann up", "|/", "|papers", "|Rule", "spread|", "spread |!", "spread ann up|", "spread ann up / |/",
-            "spread ann up |!", "spread / |3", "spread /|, bob up", "bound |/", "bound ann up |/ bob up", "rule |rule", "rule |3",
-            "rule ann up,|", "rule ann up, |", "spread ann up, |/ bob up", "spread ann |/ ann up", "rule ann up |ann up",
-            "spread / ann up |spread", "spread ann up /bob up,|", "spread |3 / ann up",
+            BadText, "|", "|ann up", "|/", "|papers", "|Rule", "spread|", "spread |!", "spread ann up|",
+            "spread ann up / |/", "spread ann up |!", "spread / |3", "spread /|, bob up", "bound |/",
+            "bound ann up |/ bob up", "rule |rule", "rule |3", "rule ann up,|", "rule ann up, |",
+            "spread ann up, |/ bob up", "spread ann |/ ann up", "rule ann up |ann up", "spread / ann up |spread",
+            "spread ann up /bob up,|", "spread |3 / ann up",
         )
 
     def test_questions_of_histories(self):
         self.wrongs(NoName, "spread |cy up / ann", "spread / |cy up", "rule |cy")
         self.wrongs(BadNumber, "bound ann up |0", "spread ann up 5 / bob down |5001")
-        self.wrongs(TooMany, "bound ann up 5000, |bob up", "spread / ann down 5000, |bob up", "spread ann up 5000, |ann up")
+        self.wrongs(
+            TooMany, "bound ann up 5000, |bob up", "spread / ann down 5000, |bob up", "spread ann up 5000, |ann up",
+        )
         # Each history may have 5000 moves.
         self.same(self.read("spread ann up 5000 / bob up 5000"), ("spread", (UP,) * 5000, ((1, 1),) * 5000))
 
@@ -290,10 +302,14 @@ class PaperTest(TextRefusals):
 
     def test_what_is_no_paper(self):
         for wrong in (
-            None, True, 0, "", "rule", (), ("rule",), ("bound",), ("spread",), ("spread", ()), ("spread", (), (), ()), ("rule", (), ()),
-            ("bound", (), ()), ("Rule", ()), ("", ()), (None, ()), (0, ()), ((), ()), ((),), ("rule", None), ("rule", UP), ("rule", 0),
-            ("rule", "ab"), ("rule", [UP]), ["rule", (UP,)], ("spread", (), None), ("spread", None, ()), ("rule", (UP, None)),
-            ("rule", ((2, 1),)), ("rule", ((0, 0),)), ("rule", ((0, True),)), ("bound", ((True, 1),)), ("spread", (), ((0, 2),)),
+            None, True, 0, "", "rule", (), ("rule",), ("bound",), ("spread",), ("spread", ()), ("spread", (), (), ()),
+            ("rule", (), ()),
+            ("bound", (), ()), ("Rule", ()), ("", ()), (None, ()), (0, ()), ((), ()), ((),), ("rule", None),
+            ("rule", UP), ("rule", 0),
+            ("rule", "ab"), ("rule", [UP]), ["rule", (UP,)], ("spread", (), None), ("spread", None, ()),
+            ("rule", (UP, None)),
+            ("rule", ((2, 1),)), ("rule", ((0, 0),)), ("rule", ((0, True),)), ("bound", ((True, 1),)),
+            ("spread", (), ((0, 2),)),
             ("rule", nested(0, 48)), nested("rule", 49), (nested("rule", 48), ()), ("rule",) * 9000,
         ):
             with self.subTest(wrong):
@@ -303,7 +319,8 @@ class PaperTest(TextRefusals):
         chance = random.Random(591)
         papers = 0
         for _ in range(6000):
-            value = (chance.choice(("rule", "bound", "spread")), *(some_value(chance, 2) for _ in range(chance.randint(1, 2))))
+            value = (chance.choice(("rule", "bound", "spread")),
+                *(some_value(chance, 2) for _ in range(chance.randint(1, 2))))
             right = len(value) == (3 if value[0] == "spread" else 2) and all(
                 isinstance(each, tuple) and all(move in ((0, 1), (1, -1)) for move in each) for each in value[1:]
             ) and "True" not in repr(value) and "False" not in repr(value)

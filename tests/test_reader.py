@@ -98,27 +98,33 @@ class KeptTest(ReaderCase):
         self.wrongs(BadText, cells + ", |1", cells + ",|", rows + ", |rows")
 
     def test_names_that_are_taken(self):
-        self.wrongs(Twice, "cells |bob !", "cells c 0, |c 0;", "cells c 0, d 0, |ann 0", "cells c 0; rows |c 0;", "rows |ann 0;",
-                    "cells c 0; rows r 0, |c 0", "rows r 0, s 0, |r !", "cells c 0, d 0; rows d1 1, |d")
+        self.wrongs(
+            Twice, "cells |bob !", "cells c 0, |c 0;", "cells c 0, d 0, |ann 0", "cells c 0; rows |c 0;",
+            "rows |ann 0;", "cells c 0; rows r 0, |c 0", "rows r 0, s 0, |r !", "cells c 0, d 0; rows d1 1, |d",
+        )
 
     def test_starts(self):
         for word in ("cells", "rows"):
             self.same(self.read(f"{word} x 1000000, y -1000000;")[word == "rows"], (("x", 1000000), ("y", -1000000)))
             self.wrongs(BadNumber, f"{word} x |1000001!", f"{word} x -|1000001", f"{word} x 0, y - |9999999;")
-            self.wrongs(BadText, f"{word} x |10000000", f"{word} x |01", f"{word} x -|-1", f"{word} x |y", f"{word} x|;", f"{word} x -|",
-                        f"{word} x|", f"{word} x |+1", f"{word} x -|y")
+            self.wrongs(
+                BadText, f"{word} x |10000000", f"{word} x |01", f"{word} x -|-1", f"{word} x |y", f"{word} x|;",
+                f"{word} x -|", f"{word} x|", f"{word} x |+1", f"{word} x -|y",
+            )
 
     def test_what_has_to_stand(self):
         self.wrongs(
-            BadText, "cells|", "cells |;", "cells |1", "cells c 0|", "cells c 0 |c := 1", "cells c 0,|", "cells c 0,|;", "rows|",
-            "rows r 0|", "rows r 0; |cells c 0;", "cells c 0; |cells d 0;", "rows r 0; |rows s 0;", "cells c 0; |;", "cells c 0 |rows",
-            "cells |it 0;", "cells |rows 0;", "rows r|[", "show ann := 1; |cells c 0;",
+            BadText, "cells|", "cells |;", "cells |1", "cells c 0|", "cells c 0 |c := 1", "cells c 0,|",
+            "cells c 0,|;", "rows|", "rows r 0|", "rows r 0; |cells c 0;", "cells c 0; |cells d 0;",
+            "rows r 0; |rows s 0;", "cells c 0; |;", "cells c 0 |rows", "cells |it 0;", "cells |rows 0;", "rows r|[",
+            "show ann := 1; |cells c 0;",
         )
 
 
 class PartTest(ReaderCase):
     PLACES = (
-        "show {} := 1", "r[{}] := 1", "c := truth[{}]", "c := shown[{}]", "c := steps[{}]", "c := s[{}]", "if linked {} {{}}",
+        "show {} := 1", "r[{}] := 1", "c := truth[{}]", "c := shown[{}]", "c := steps[{}]", "c := s[{}]",
+        "if linked {} {{}}",
         "if same {}, ann {{}}", "if same ann, {} {{}}",
     )
 
@@ -168,7 +174,8 @@ class NumberTest(ReaderCase):
     def test_products_ahead_of_sums(self):
         self.same(self.number("1 + 2 * 3"), ("add", ONE, ("mul", num(2), num(3))))
         self.same(self.number("1 * 2 + 3"), ("add", ("mul", ONE, num(2)), num(3)))
-        self.same(self.number("1 - 2 mod 3 - 4 / 5"), ("sub", ("sub", ONE, ("mod", num(2), num(3))), ("div", num(4), num(5))))
+        self.same(self.number("1 - 2 mod 3 - 4 / 5"), ("sub", ("sub", ONE, ("mod", num(2), num(3))),
+            ("div", num(4), num(5))))
 
     def test_brackets(self):
         self.same(self.number("1 - (2 - 3)"), ("sub", ONE, ("sub", num(2), num(3))))
@@ -178,10 +185,10 @@ class NumberTest(ReaderCase):
 
     def test_wrong_words(self):
         self.wrong_number(
-            BadText, "|", "|)", "|-1", "1 +|", "1 + |)", "1 + |* 2", "(|", "(1|", "(1 |2", "(|)", "1 |2", "1 |c", "c|[ann]",
-            "r|", "r |:= 1", "r[|", "r[ann|", "r[ann |1", "truth|", "truth |ann", "truth[ann|", "truth[|1]", "way|[ann]", "|moved", "|it",
-            "|not 1", "|same ann, bob", "|{", "(1 + 2|]", "(1 |= 1)", "1 mod|", "1 mod |mod 2", "1 |mo 2", "|01", "1 + |9a",
-            "1 / |/ 2", "(r|)", "1 |truth[ann]", "|\"",
+            BadText, "|", "|)", "|-1", "1 +|", "1 + |)", "1 + |* 2", "(|", "(1|", "(1 |2", "(|)", "1 |2", "1 |c",
+            "c|[ann]", "r|", "r |:= 1", "r[|", "r[ann|", "r[ann |1", "truth|", "truth |ann", "truth[ann|",
+            "truth[|1]", "way|[ann]", "|moved", "|it", "|not 1", "|same ann, bob", "|{", "(1 + 2|]", "(1 |= 1)",
+            "1 mod|", "1 mod |mod 2", "1 |mo 2", "|01", "1 + |9a", "1 / |/ 2", "(r|)", "1 |truth[ann]", "|\"",
         )
         self.wrong_number(NoName, "|cy", "|ann", "1 + |moved1", "(|x!", "2 * |bob[ann]", "|cc")
         self.wrong_number(BadNumber, "|1000001", "1 + |9999999!", "(|2000000")
@@ -194,7 +201,9 @@ class NumberTest(ReaderCase):
             for _ in range(5):
                 number = (word, number, ONE)
             self.same(self.number(six), number)
-            self.wrong_number(TooDeep, f"{six} |{sign} 1", f"{six} |{sign} 1 {sign} 1", f"{six} |{sign} 1!", f"({six}) |{sign} 1)")
+            self.wrong_number(
+                TooDeep, f"{six} |{sign} 1", f"{six} |{sign} 1 {sign} 1", f"{six} |{sign} 1!", f"({six}) |{sign} 1)",
+            )
             # What stands behind the sign is read ahead of that.
             self.wrong_number(BadText, f"{six} {sign} |!", f"{six} {sign}|")
             self.wrong_number(NoName, f"{six} {sign} |x")
@@ -207,12 +216,20 @@ class NumberTest(ReaderCase):
             self.wrong_number(TooDeep, f"1 |{sign} ({right})", f"1 |{sign} ({right}) !", f"1 + (1 |{sign} ({right}) !")
             self.wrong_number(BadText, f"1 {sign} ({right} |!")
 
+    def test_each_atom_is_one_deep(self):
+        for atom in ("0", "c", "r[moved]", "truth[ann]", "shown[bob]", "steps[moved]", "way", "(way)", "((s[ann]))"):
+            six = " * ".join([atom] * 6)
+            self.number(six)
+            self.wrong_number(TooDeep, f"{six} |* {atom}", f"{atom} |- ({six})")
+
     def test_seven_deep_by_a_sum_of_products(self):
         six = "1 * 1 * 1 * 1 * 1 * 1"
         five = "1 * 1 * 1 * 1 * 1"
         self.same(self.number(f"{five} + {five}")[0], "add")
-        self.wrong_number(TooDeep, f"1 |+ {six}", f"{six} |+ 1", f"{five} + {five} |- 1", f"1 + {six} |* 1", f"{six} |* 1 + 1",
-                          f"2 |- {six} + {six} * 1", f"2 - {six} |* 1 + {six} * 1")
+        self.wrong_number(
+            TooDeep, f"1 |+ {six}", f"{six} |+ 1", f"{five} + {five} |- 1", f"1 + {six} |* 1", f"{six} |* 1 + 1",
+            f"2 |- {six} + {six} * 1", f"2 - {six} |* 1 + {six} * 1",
+        )
         # The product behind the sign is read to its end.
         self.wrong_number(BadText, f"1 + {six} *|", f"1 + {six} * |!")
 
@@ -230,8 +247,10 @@ class ConditionTest(ReaderCase):
     def test_bare_ones(self):
         for text, condition in (
             ("1 = c", ("eq", ONE, ("cell", "c"))), ("1 + 1 < way", ("less", ("add", ONE, ONE), WAY)),
-            ("same moved, bob", ("same", MOVED, BOB)), ("linked ann", ("linked", ANN)), ("{ linked ann }", ("linked", ANN)),
-            ("(1) = (1)", YES), ("(1 + 1) * 2 = 4", ("eq", ("mul", ("add", ONE, ONE), num(2)), num(4))), ("{{{1=1}}}", YES),
+            ("same moved, bob", ("same", MOVED, BOB)), ("linked ann", ("linked", ANN)),
+            ("{ linked ann }", ("linked", ANN)),
+            ("(1) = (1)", YES), ("(1 + 1) * 2 = 4", ("eq", ("mul", ("add", ONE, ONE), num(2)), num(4))),
+            ("{{{1=1}}}", YES),
         ):
             with self.subTest(text):
                 self.same(self.condition(text), condition)
@@ -239,9 +258,12 @@ class ConditionTest(ReaderCase):
     def test_joined(self):
         a, b, c = ("linked", ANN), ("linked", BOB), ("linked", MOVED)
         for text, condition in (
-            ("a or b or c", ("or", ("or", a, b), c)), ("a and b and c", ("and", ("and", a, b), c)), ("a or b and c", ("or", a, ("and", b, c))),
-            ("a and b or c", ("or", ("and", a, b), c)), ("not a and b", ("and", ("not", a), b)), ("not {a and b}", ("not", ("and", a, b))),
-            ("not not a", ("not", ("not", a))), ("a or {b or c}", ("or", a, ("or", b, c))), ("{a or b} and c", ("and", ("or", a, b), c)),
+            ("a or b or c", ("or", ("or", a, b), c)), ("a and b and c", ("and", ("and", a, b), c)),
+            ("a or b and c", ("or", a, ("and", b, c))),
+            ("a and b or c", ("or", ("and", a, b), c)), ("not a and b", ("and", ("not", a), b)),
+            ("not {a and b}", ("not", ("and", a, b))),
+            ("not not a", ("not", ("not", a))), ("a or {b or c}", ("or", a, ("or", b, c))),
+            ("{a or b} and c", ("and", ("or", a, b), c)),
             ("a and not not b or not c", ("or", ("and", a, ("not", ("not", b))), ("not", c))),
         ):
             with self.subTest(text):
@@ -251,11 +273,12 @@ class ConditionTest(ReaderCase):
 
     def test_wrong_words(self):
         self.wrong_condition(
-            BadText, "|", "|}", "{|", "{|}", "way|", "way |{}", "way |and 1 = 1", "way = |{}", "way < |< 1", "way |:= 1", "way |> 1",
-            "way = 1 |= 1", "way = 1 |same ann, bob", "same|", "same ann|", "same ann |bob", "same ann,|", "same ann, |1", "linked|",
-            "linked |1", "not|", "not |}", "not |and", "way = 1 and|", "way = 1 or |}",
-            "way = 1 and |or way = 1", "{ way = 1 |] {}", "{ way = 1|", "{ way = 1 |) {}", "(way |= 1) {}", "(way|", "linked ann |= 1", "|or 1 = 1",
-            "|moved = ann", "|else", "way = 1|", "way = 1 |c := 1", "not not not|", "same ann|; bob",
+            BadText, "|", "|}", "{|", "{|}", "way|", "way |{}", "way |and 1 = 1", "way = |{}", "way < |< 1",
+            "way |:= 1", "way |> 1", "way = 1 |= 1", "way = 1 |same ann, bob", "same|", "same ann|", "same ann |bob",
+            "same ann,|", "same ann, |1", "linked|", "linked |1", "not|", "not |}", "not |and", "way = 1 and|",
+            "way = 1 or |}", "way = 1 and |or way = 1", "{ way = 1 |] {}", "{ way = 1|", "{ way = 1 |) {}",
+            "(way |= 1) {}", "(way|", "linked ann |= 1", "|or 1 = 1", "|moved = ann", "|else", "way = 1|",
+            "way = 1 |c := 1", "not not not|", "same ann|; bob",
         )
         self.wrong_condition(NoName, "|x = 1", "|ann = 1", "linked |it", "same ann, |x", "not |x", "{ |x")
         self.wrong_condition(BadNumber, "|1000001 = 1", "1 < |1000001")
@@ -264,21 +287,37 @@ class ConditionTest(ReaderCase):
         for word in ("and", "or"):
             six = f" {word} ".join(["1 = 1"] * 6)
             self.condition(six)
-            self.wrong_condition(TooDeep, f"{six} |{word} 1 = 1", f"{six} |{word} 1 = 1 !", f"{six} |{word} linked ann {word} linked ann",
-                                 f"{{ {six} |{word} 1 = 1")
+            self.wrong_condition(
+                TooDeep, f"{six} |{word} 1 = 1", f"{six} |{word} 1 = 1 !",
+                f"{six} |{word} linked ann {word} linked ann", f"{{ {six} |{word} 1 = 1",
+            )
             self.wrong_condition(BadText, f"{six} {word} |!", f"{six} {word} 1|", f"{six} {word} {{ 1 = 1|")
             self.wrong_condition(NoName, f"{six} {word} linked |x")
             right = "1 = 1"
             for _ in range(5):
                 right = f"1 = 1 {word} {{ {right} }}"
             self.condition(right)
-            self.wrong_condition(TooDeep, f"1 = 1 |{word} {{ {right} }} {{}}", f"1 = 1 |{word} {{ {right} }} !", f"not {{ 1 = 1 |{word} {{ {right} }} !")
+            self.wrong_condition(
+                TooDeep, f"1 = 1 |{word} {{ {right} }} {{}}", f"1 = 1 |{word} {{ {right} }} !",
+                f"not {{ 1 = 1 |{word} {{ {right} }} !",
+            )
             self.wrong_condition(BadText, f"1 = 1 {word} {{ {right} |!")
+
+    def test_each_bare_one_is_one_deep(self):
+        for bare in ("1 = c", "way < 1 + 1 + 1", "same ann, moved", "linked bob", "{ linked bob }", "(c) = 1"):
+            six = " or ".join([bare] * 6)
+            self.condition(six)
+            self.wrong_condition(
+                TooDeep, f"{six} |or {bare}", f"{bare} |and {{ {six} }}", f"|not not not not not not {bare}",
+            )
 
     def test_seven_deep_by_or_of_and(self):
         six, five = " and ".join(["1 = 1"] * 6), " and ".join(["1 = 1"] * 5)
         self.condition(f"{five} or {five}")
-        self.wrong_condition(TooDeep, f"1 = 1 |or {six}", f"{six} |or 1 = 1", f"{five} or {five} |or 1 = 1", f"1 = 1 or {six} |and 1 = 1")
+        self.wrong_condition(
+            TooDeep, f"1 = 1 |or {six}", f"{six} |or 1 = 1", f"{five} or {five} |or 1 = 1",
+            f"1 = 1 or {six} |and 1 = 1",
+        )
         self.wrong_condition(BadText, f"1 = 1 or {six} and|")
 
     def test_nots(self):
@@ -290,8 +329,14 @@ class ConditionTest(ReaderCase):
         # The not by which it would be too deep is the sixth one from the right.
         for many in (6, 7, 8, 30):
             ahead, behind = "not " * (many - 6), "not " * 5
-            self.wrong_condition(TooDeep, f"{ahead}|not {behind}{yes}", f"{ahead}|not {behind}{yes} !", f"{ahead}|not {behind}{{{yes}}}!")
-            self.wrong_condition(BadText, "not " * many + "|!", "not " * many + "1|", "not " * many + "{ 1 = 1 |!", "not " * many + "|")
+            self.wrong_condition(
+                TooDeep, f"{ahead}|not {behind}{yes}", f"{ahead}|not {behind}{yes} !",
+                f"{ahead}|not {behind}{{{yes}}}!",
+            )
+            self.wrong_condition(
+                BadText, "not " * many + "|!", "not " * many + "1|", "not " * many + "{ 1 = 1 |!",
+                "not " * many + "|",
+            )
         self.wrong_condition(TooDeep, "not " * 4000 + "|not " + "not " * 5 + yes)
         self.wrong_condition(BadText, "not " * 4000 + "|")
         self.wrong_condition(TooDeep, "|not { not { not { not { not { not 1 = 1 } } } } } {}")
@@ -316,18 +361,25 @@ class ConditionTest(ReaderCase):
         # Those of numbers and those of tests are counted together.
         self.same(self.condition("{" * 6 + "(" * 6 + "1" + ")" * 6 + " = 1" + "}" * 6), YES)
         self.same(self.condition("{" * 11 + "(1) = (1)" + "}" * 11), YES)
-        self.wrong_condition(TooDeep, "{" * 12 + "|(1) = 1", "{" * 6 + "(" * 6 + "|(1", "{" * 11 + "(|(", "{" * 11 + "(1) = (1 + |(")
-        self.same(self.condition("{" * 12 + "1 = 1" + "}" * 12 + " or " + "{" * 12 + "1 = 1" + "}" * 12), ("or", YES, YES))
+        self.wrong_condition(
+            TooDeep, "{" * 12 + "|(1) = 1", "{" * 6 + "(" * 6 + "|(1", "{" * 11 + "(|(", "{" * 11 + "(1) = (1 + |(",
+        )
+        self.same(self.condition("{" * 12 + "1 = 1" + "}" * 12 + " or " + "{" * 12 + "1 = 1" + "}" * 12),
+            ("or", YES, YES))
         # Those of blocks are not counted.
-        self.same(self.body("if 1 = 1 { if 1 = 1 { if " + "{" * 12 + "1 = 1" + "}" * 12 + " {} } }")[0][2][0][2][0][1], YES)
+        (outer,) = self.body("if 1 = 1 { if 1 = 1 { if " + "{" * 12 + "1 = 1" + "}" * 12 + " {} } }")
+        self.same(outer[2][0][2][0][1], YES)
 
 
 class StatementTest(ReaderCase):
     def test_each_kind(self):
         for text, statement in (
-            ("c := 1", ("set", "c", ONE)), ("r[moved] := way", ("put", "r", MOVED, WAY)), ("show bob := c", ("show", BOB, ("cell", "c"))),
-            ("if 1 = 1 {}", ("if", YES, (), ())), ("if 1 = 1 {} else {}", ("if", YES, (), ())), ("each {}", ("each", ())),
-            ("if 1 = 1 { c := 1 } else { d := 1; d := way }", ("if", YES, (("set", "c", ONE),), (("set", "d", ONE), ("set", "d", WAY)))),
+            ("c := 1", ("set", "c", ONE)), ("r[moved] := way", ("put", "r", MOVED, WAY)),
+            ("show bob := c", ("show", BOB, ("cell", "c"))),
+            ("if 1 = 1 {}", ("if", YES, (), ())), ("if 1 = 1 {} else {}", ("if", YES, (), ())),
+            ("each {}", ("each", ())),
+            ("if 1 = 1 { c := 1 } else { d := 1; d := way }",
+            ("if", YES, (("set", "c", ONE),), (("set", "d", ONE), ("set", "d", WAY)))),
             ("each { show it := 1; c := 1 }", ("each", (("show", IT, ONE), ("set", "c", ONE)))),
         ):
             with self.subTest(text):
@@ -337,24 +389,29 @@ class StatementTest(ReaderCase):
 
     def test_wrong_words(self):
         self.wrong_body(
-            BadText, "c|", "c |= 1", "c |:", "c|[ann] := 1", "c :=|", "c := 1 |c := 1", "c := 1;|", "c := 1;|;", "|1", "|;", "|:=", "|way := 1", "|moved := 1",
-            "r|", "r |:= 1", "r[ann]|", "r[ann] |= 1", "r[ann] :=|", "show|", "show ann|", "show ann |= 1", "show ann :=|", "show|[ann] := 1", "if|",
-            "each|", "each |c := 1", "each {|", "each { c := 1|", "each { c := 1;|", "each { c := 1; |}", "each { |; }", "each {} |each {}",
-            "each {} |else {}", "if 1 = 1|", "if 1 = 1 |c := 1", "if 1 = 1 {|", "if 1 = 1 {} |{}", "if 1 = 1 {} else|", "if 1 = 1 {} else |if 1 = 1 {}",
-            "if 1 = 1 {} else {|", "if 1 = 1 {} else {} |else {}", "if 1 = 1 {}; |else {}", "|}", "c := 1 |}", "each {} |}", "|else {}", "|{}",
-            "each { |1 }", "|line", "|mod := 1", "|by := 1", "each {}|,", "each { c := 1 |, }",
+            BadText, "c|", "c |= 1", "c |:", "c|[ann] := 1", "c :=|", "c := 1 |c := 1", "c := 1;|", "c := 1;|;", "|1",
+            "|;", "|:=", "|way := 1", "|moved := 1", "r|", "r |:= 1", "r[ann]|", "r[ann] |= 1", "r[ann] :=|", "show|",
+            "show ann|", "show ann |= 1", "show ann :=|", "show|[ann] := 1", "if|", "each|", "each |c := 1",
+            "each {|", "each { c := 1|", "each { c := 1;|", "each { c := 1; |}", "each { |; }", "each {} |each {}",
+            "each {} |else {}", "if 1 = 1|", "if 1 = 1 |c := 1", "if 1 = 1 {|", "if 1 = 1 {} |{}",
+            "if 1 = 1 {} else|", "if 1 = 1 {} else |if 1 = 1 {}", "if 1 = 1 {} else {|",
+            "if 1 = 1 {} else {} |else {}", "if 1 = 1 {}; |else {}", "|}", "c := 1 |}", "each {} |}", "|else {}",
+            "|{}", "each { |1 }", "|line", "|mod := 1", "|by := 1", "each {}|,", "each { c := 1 |, }",
         )
-        self.wrong_body(NoName, "|x := 1", "|x", "|ann := 1", "each { |bob := 1", "c := 1; |x!", "if 1 = 1 {} else { |x")
+        self.wrong_body(
+            NoName, "|x := 1", "|x", "|ann := 1", "each { |bob := 1", "c := 1; |x!", "if 1 = 1 {} else { |x",
+        )
 
     def test_six_bodies_and_seven(self):
         for opening in ("if 1 = 1 { ", "if 1 = 1 {} else { ", "if 1 = 1 { c := 1; "):
-            five = opening * (4 if "else" in opening else 5)
-            self.body(five + "c := 1" + " }" * five.count(opening))
+            self.body(opening * 5 + "c := 1" + " }" * 5)
         held = "if 1 = 1 { " * 5
-        self.wrong_body(TooDeep, held + "if 1 = 1 |{", held + "if 1 = 1 |{!", held + "if 1 = 1 |{}" + "}" * 5, held + "c := 1; if 1 = 1 |{}")
+        self.wrong_body(
+            TooDeep, held + "if 1 = 1 |{", held + "if 1 = 1 |{!", held + "if 1 = 1 |{}" + "}" * 5,
+            held + "c := 1; if 1 = 1 |{}",
+        )
         self.wrong_body(BadText, held + "if 1 = 1 |!", held + "if 1 = 1|")
         other = "if 1 = 1 {} else { "
-        self.body(other * 5 + "c := 1" + "}" * 5)
         self.wrong_body(TooDeep, other * 5 + "if 1 = 1 |{} else {", other * 5 + "each |{ c := 1")
         self.wrong_body(TooDeep, "if 1 = 1 { " * 5 + "each |{}")
         self.body("each { " + "if 1 = 1 { " * 4 + "c := 1" + "}" * 5)
@@ -362,15 +419,19 @@ class StatementTest(ReaderCase):
         self.body("if 1 = 1 { " * 4 + "each {}" + "}" * 4)
 
     def test_an_each_within_an_each(self):
-        self.wrong_body(TooDeep, "each { |each", "each { |each !", "each { c := 1; |each {} }", "each { if 1 = 1 {} else { |each {}",
-                        "if 1 = 1 { each { |each {} } }")
+        self.wrong_body(
+            TooDeep, "each { |each", "each { |each !", "each { c := 1; |each {} }",
+            "each { if 1 = 1 {} else { |each {}", "if 1 = 1 { each { |each {} } }",
+        )
         self.body("each {}; each {}; if 1 = 1 { each {} } else { each {} }; each { c := 1 }")
 
     def test_thirty_statements(self):
         thirty = "; ".join(["c := 1"] * 30)
         self.same(self.body(thirty), (("set", "c", ONE),) * 30)
-        self.wrong_body(TooMany, thirty + "; |c := 1", thirty + "; |x", thirty + ";|show", thirty + "; |each!", thirty + "; |if",
-                        "each { " + thirty + "; |each {}", "if 1 = 1 {} else { " + thirty + "; |ann")
+        self.wrong_body(
+            TooMany, thirty + "; |c := 1", thirty + "; |x", thirty + ";|show", thirty + "; |each!", thirty + "; |if",
+            "each { " + thirty + "; |each {}", "if 1 = 1 {} else { " + thirty + "; |ann",
+        )
         self.wrong_body(BadText, thirty + ";|", thirty + "; |}", thirty + "; |1", thirty + "; |way")
         self.same(len(self.body("each { " + thirty + " }; " + "; ".join(["d := 1"] * 29))), 30)
 
@@ -380,7 +441,8 @@ class StatementTest(ReaderCase):
         self.body(hundred)
         self.wrong_body(TooMany, hundred + "; |c := 1", hundred + "; |x", hundred + ";|each")
         self.wrong_body(BadText, hundred + ";|", hundred + "; |1")
-        inner = f"if 1 = 1 {{ {many} }} else {{ {many} }}; if 1 = 1 {{ {many} }} else {{ c := 1; c := 1; c := 1; c := 1; c := 1; c := 1; c := 1; c := 1"
+        eight = "; ".join(["c := 1"] * 8)
+        inner = f"if 1 = 1 {{ {many} }} else {{ {many} }}; if 1 = 1 {{ {many} }} else {{ {eight}"
         self.body(inner + "}")
         self.wrong_body(TooMany, inner + "; |c := 1 }", inner + "; |each")
         # A statement counts ahead of those in its bodies.
@@ -406,8 +468,10 @@ class WholeTest(ReaderCase):
         """What is read is a publisher; what is refused is refused for what stands there and ahead of it."""
         chance = random.Random(49)
         strange = (
-            "c0", "r0", "ann", "it", "moved", "if", "each", "{", "}", "(", ")", "[", "]", ";", ",", ":=", "=", "+", "mod", "not", "and",
-            "or", "1", "1000001", "01", "!", "show", "x", "else", "-", "cells", "truth", "linked", "same", "+ 1 + 1 + 1 + 1", "not not not not",
+            "c0", "r0", "ann", "it", "moved", "if", "each", "{", "}", "(", ")", "[", "]", ";", ",", ":=", "=", "+",
+            "mod", "not", "and",
+            "or", "1", "1000001", "01", "!", "show", "x", "else", "-", "cells", "truth", "linked", "same",
+            "+ 1 + 1 + 1 + 1", "not not not not",
         )
         kinds = {}
         for _ in range(2000):

@@ -27,11 +27,15 @@ class ReportTest(Refusals):
 
     def test_numbers(self):
         for steps, truth, shown, told in (
-            (1, 0, 0, "a shown 0 true 0 off 0"), (1, -7, -7, "a shown -7 true -7 off 0"), (1, 3, 5, "a shown 5 true 3 off 2"),
-            (6, 4, 1, "a shown 1 true 2/3 off 1/3"), (6, -4, 0, "a shown 0 true -2/3 off 2/3"), (6, 12, 3, "a shown 3 true 2 off 1"),
-            (6, 3, 0, "a shown 0 true 1/2 off -1/2"), (6, 5, 0, "a shown 0 true 5/6 off -5/6"), (6, -12, 0, "a shown 0 true -2 off 2"),
+            (1, 0, 0, "a shown 0 true 0 off 0"), (1, -7, -7, "a shown -7 true -7 off 0"),
+            (1, 3, 5, "a shown 5 true 3 off 2"),
+            (6, 4, 1, "a shown 1 true 2/3 off 1/3"), (6, -4, 0, "a shown 0 true -2/3 off 2/3"),
+            (6, 12, 3, "a shown 3 true 2 off 1"),
+            (6, 3, 0, "a shown 0 true 1/2 off -1/2"), (6, 5, 0, "a shown 0 true 5/6 off -5/6"),
+            (6, -12, 0, "a shown 0 true -2 off 2"),
             (60, 45, -1, "a shown -1 true 3/4 off -7/4"), (60, -45, 1, "a shown 1 true -3/4 off 7/4"),
-            (60, 1, 0, "a shown 0 true 1/60 off -1/60"), (2, 10 ** 900, 0, f"a shown 0 true {5 * 10 ** 899} off -{5 * 10 ** 899}"),
+            (60, 1, 0, "a shown 0 true 1/60 off -1/60"), (2, 10 ** 900, 0,
+            f"a shown 0 true {5 * 10 ** 899} off -{5 * 10 ** 899}"),
         ):
             with self.subTest(steps, truth=truth, shown=shown):
                 self.same(report(plain((steps,)), ("a",), (), ((truth,), (shown,))), (told,))
@@ -42,7 +46,8 @@ class ReportTest(Refusals):
     def test_lines_are_numbered_from_nought(self):
         told = report(BOOK, NAMES, ((1, 0), (0, 1), (1, 0), (-20, 20)), ((1, 2), (0, 0)))
         self.same(told[2:], (
-            "line 0: shown 0 true 1/4 off -1/4", "line 1: shown 0 true 1/2 off -1/2", "line 2: shown 0 true 1/4 off -1/4",
+            "line 0: shown 0 true 1/4 off -1/4", "line 1: shown 0 true 1/2 off -1/2",
+            "line 2: shown 0 true 1/4 off -1/4",
             "line 3: shown 0 true 5 off -5",
         ))
         self.assertTrue(report(BOOK, NAMES, ((1, 1),) * 12, ((0, 0), (0, 0)))[-1].startswith("line 11: "))
@@ -92,9 +97,11 @@ class ReportTest(Refusals):
     def test_what_is_no_state(self):
         right = (3, 0)
         for wrong in (
-            None, True, 0, "ab", (), (right,), (right, right, right), [right, right], (right, right, (), ()), (right, [3, 0]),
+            None, True, 0, "ab", (), (right,), (right, right, right), [right, right], (right, right, (), ()),
+            (right, [3, 0]),
             ([3, 0], right), (None, right), (right, None), (right, "ab"), ("ab", right), (right, (3,)), ((3,), right),
-            (right, (3, 0, 0)), ((3, 0, 0), right), ((), ()), (right, (3, True)), ((True, 0), right), ((3, None), right),
+            (right, (3, 0, 0)), ((3, 0, 0), right), ((), ()), (right, (3, True)), ((True, 0), right),
+            ((3, None), right),
             (right, ("3", 0)), (right, ((3,), 0)), 3, ((right, right),), (nested(0, 48), right), ((3, 0.0), right),
         ):
             with self.subTest(wrong):

@@ -58,6 +58,9 @@ class RowCase(Refusals):
                 self.same(desk.row(row), "refused: " + told.replace("|", str(place)))
                 self.same(self.standing(desk), before)
 
+    def bad_texts(self, desk, *rows):
+        self.refusals(desk, *((row, "BadText |") for row in rows))
+
 
 class ExampleTest(RowCase):
     def test_the_rows_one_behind_another(self):
@@ -74,7 +77,8 @@ class DeedTest(RowCase):
         for word in ("half", "x", "publisher", "open", "off", "report"):
             self.same(desk.row(f"publisher {word}: {HALF}"), "ok")
             desk.row("line sum: line 1 ann")
-            self.same(desk.paper(word, "sum", 3), breaker(BOOK, (1, 0), program(BOOK, NAMES, read_publisher(BOOK, NAMES, HALF)), 3))
+            self.same(desk.paper(word, "sum", 3), breaker(BOOK, (1, 0),
+                program(BOOK, NAMES, read_publisher(BOOK, NAMES, HALF)), 3))
         self.same(desk.row("publisher e:"), "ok")
         self.same(desk.row("publisher e :  cells c -5; rows r 1; each { r[it] := c }"), "ok")
         self.same(desk.row("publisher half:show ann:=1"), "ok")
@@ -116,7 +120,8 @@ class DeedTest(RowCase):
         desk = self.desk()
         desk.row("f up ann 3")
         for row, history in (
-            ("f correct 1: bob down", (UP, (1, -1), UP)), ("f correct 0:", ((1, -1), UP)), ("f correct 2: ann up 2", ((1, -1), UP, UP, UP)),
+            ("f correct 1: bob down", (UP, (1, -1), UP)), ("f correct 0:", ((1, -1), UP)),
+            ("f correct 2: ann up 2", ((1, -1), UP, UP, UP)),
             ("f correct 0 : bob up, bob down 2", ((1, 1), (1, -1), (1, -1), UP, UP, UP)),
         ):
             self.same(desk.row(row), "ok")
@@ -144,7 +149,8 @@ class QuestionTest(RowCase):
         desk.row("f up ann 3")
         desk.row("f up bob 2")
         self.same(desk.row("f audit 1"), "1 stray ann, 4 stray bob")
-        self.same(desk.row("f audit 0"), "0 stray ann, 1 stray ann, 2 stray ann, 3 stray ann, 3 stray bob, 4 stray ann, 4 stray bob")
+        self.same(desk.row("f audit 0"),
+            "0 stray ann, 1 stray ann, 2 stray ann, 3 stray ann, 3 stray bob, 4 stray ann, 4 stray bob")
         self.same(desk.row("f audit 2"), "none")
         self.same(desk.row("f audit 10000"), "none")
 
@@ -172,12 +178,14 @@ class RefusedTest(RowCase):
         desk = self.desk()
         desk.row("f up ann 3")
         self.refusals(
-            desk, ("open f half", "Twice f"), ("open g x", "NoWord x"), ("open g sum", "NoWord sum"), ("open break half", "BadName break"),
-            ("open publisher half", "BadName publisher"), ("open open x", "BadName open"), ("open off half", "BadName off"),
-            ("f up ann 0", "BadMany 0"), ("f up ann 1001", "BadMany 1001"), ("f up ann 9999999", "BadMany 9999999"), ("g up ann", "NoWord g"),
-            ("half up ann", "NoWord half"), ("g down bob 0", "NoWord g"), ("f correct 4: bob up", "BadIndex 4"), ("f correct 9999999:", "BadIndex 9999999"),
-            ("g correct 0:", "NoWord g"), ("g report", "NoWord g"), ("g audit 99999", "NoWord g"), ("f audit 10001", "BadBound 0"),
-            ("break x y 99999", "NoWord x"), ("break half y 99999", "NoWord y"), ("break half sum 10001", "BadBound 0"),
+            desk, ("open f half", "Twice f"), ("open g x", "NoWord x"), ("open g sum", "NoWord sum"),
+            ("open break half", "BadName break"), ("open publisher half", "BadName publisher"),
+            ("open open x", "BadName open"), ("open off half", "BadName off"), ("f up ann 0", "BadMany 0"),
+            ("f up ann 1001", "BadMany 1001"), ("f up ann 9999999", "BadMany 9999999"), ("g up ann", "NoWord g"),
+            ("half up ann", "NoWord half"), ("g down bob 0", "NoWord g"), ("f correct 4: bob up", "BadIndex 4"),
+            ("f correct 9999999:", "BadIndex 9999999"), ("g correct 0:", "NoWord g"), ("g report", "NoWord g"),
+            ("g audit 99999", "NoWord g"), ("f audit 10001", "BadBound 0"), ("break x y 99999", "NoWord x"),
+            ("break half y 99999", "NoWord y"), ("break half sum 10001", "BadBound 0"),
             ("break half sum 10000", "TooLarge 400080004"), ("off half", "NoWord half"), ("spread x", "NoWord x"),
             ("f correct 3: ann up 5000", "TooMany 5001"),
         )
@@ -187,49 +195,54 @@ class RefusedTest(RowCase):
         desk.row("publisher odd: if way = 1 {} else { show ann := 1; show bob := 1 }")
         desk.row("open g odd")
         desk.row("g up ann 2")
-        self.refusals(desk, ("g down bob", "Broken 2"), ("g down bob 7", "Broken 2"), ("g correct 1: bob up, bob down", "Broken 2"))
+        self.refusals(
+            desk, ("g down bob", "Broken 2"), ("g down bob 7", "Broken 2"),
+            ("g correct 1: bob up, bob down", "Broken 2"),
+        )
         self.same(desk.feed("g").history(), (UP, UP))
 
     def test_what_is_refused_when_it_is_read(self):
         desk = self.desk()
+        self.bad_texts(
+            desk, "|", "   |", "|1", "|up", "|F report", "|it", "f|", "f |1", "f |ann", "f |reports", "f |line",
+            "f up|", "f up |3", "f up |up", "f up ann |bob", "f up ann 3 |3", "f up ann |03", "f up ann |10000000",
+            "f up ann |-1", "f report |f", "f report|;", "f audit|", "f audit |x", "f audit 1 |1", "f audit |-1",
+            "f correct|", "f correct |:", "f correct 1|", "f correct 1 |bob up", "f correct 1: bob|",
+            "f correct |-1: bob up", "f correct 1: bob up|; bob up", "f correct 1: bob up,|", "f correct 1|:= bob up",
+        )
         self.refusals(
-            desk, ("|", "BadText |"), ("   |", "BadText |"), ("|1", "BadText |"), ("|up", "BadText |"), ("|F report", "BadText |"), ("|it", "BadText |"),
-            ("f|", "BadText |"), ("f |1", "BadText |"), ("f |ann", "BadText |"), ("f |reports", "BadText |"), ("f |line", "BadText |"),
-            ("f up|", "BadText |"), ("f up |3", "BadText |"), ("f up |up", "BadText |"), ("f up |cy", "NoName |"), ("f down |cy !", "NoName |"),
-            ("f up ann |bob", "BadText |"), ("f up ann 3 |3", "BadText |"), ("f up ann |03", "BadText |"), ("f up ann |10000000", "BadText |"),
-            ("f up ann |-1", "BadText |"), ("f report |f", "BadText |"), ("f report|;", "BadText |"), ("f audit|", "BadText |"), ("f audit |x", "BadText |"),
-            ("f audit 1 |1", "BadText |"), ("f audit |-1", "BadText |"), ("f correct|", "BadText |"), ("f correct |:", "BadText |"), ("f correct 1|", "BadText |"),
-            ("f correct 1 |bob up", "BadText |"), ("f correct 1: bob|", "BadText |"), ("f correct 1: |cy up", "NoName |"), ("f correct |-1: bob up", "BadText |"),
-            ("f correct 1: bob up |0", "BadNumber |"), ("f correct 1: bob up 5000, |ann up", "TooMany |"), ("f correct 1: bob up|; bob up", "BadText |"),
-            ("f correct 1: bob up,|", "BadText |"), ("f correct 1|:= bob up", "BadText |"),
+            desk, ("f up |cy", "NoName |"), ("f down |cy !", "NoName |"), ("f correct 1: |cy up", "NoName |"),
+            ("f correct 1: bob up |0", "BadNumber |"), ("f correct 1: bob up 5000, |ann up", "TooMany |"),
         )
 
     def test_what_is_refused_when_what_is_kept_is_read(self):
         desk = self.desk()
+        self.bad_texts(
+            desk, "publisher|", "publisher |it: ", "publisher |1: ", "publisher half|",
+            "publisher half |show ann := 1", "publisher half|:= 1", "publisher x: each {|",
+            "publisher half: show ann := 1 |show", "publisher abcdefghijkl: show ann := |!",
+            "publisher |abcdefghijklm: ", "line|", "line |1: line 1 ann", "line sum|", "line |1 ann, 1 bob",
+            "line sum: |1 ann", "line sum: line 1 ann |1", "line sum: line 1 ann,|", "line |line: line 1 ann",
+            "line sum: line 1 ann|: ", "open|", "open g|", "open g |1", "open g half |1", "open |line half",
+            "open |spread half", "open g|: half", "break|", "break half|", "break half sum|", "break half |3",
+            "break half sum |x", "break half sum 3 |3", "off|", "off |1", "off sum |sum", "spread|", "spread sum |1",
+            "spread |/ ann up", "spread |up",
+        )
         self.refusals(
-            desk, ("publisher|", "BadText |"), ("publisher |it: ", "BadText |"), ("publisher |1: ", "BadText |"), ("publisher half|", "BadText |"),
-            ("publisher half |show ann := 1", "BadText |"), ("publisher half|:= 1", "BadText |"), ("publisher half: |x := 1", "NoName |"),
-            ("publisher half: cells |ann 0;", "Twice |"), ("publisher half: show ann := |1000001", "BadNumber |"), ("publisher x: each {|", "BadText |"),
-            ("publisher half: each { |each {} }", "TooDeep |"), ("publisher half: show ann := 1 |show", "BadText |"),
-            ("publisher half: show |it := 1", "NoName |"), ("publisher abcdefghijkl: show ann := |!", "BadText |"),
-            ("publisher |abcdefghijklm: ", "BadText |"), ("line|", "BadText |"), ("line |1: line 1 ann", "BadText |"), ("line sum|", "BadText |"),
-            ("line |1 ann, 1 bob", "BadText |"), ("line sum: |1 ann", "BadText |"), ("line sum: line |0 ann", "BadNumber |"),
-            ("line sum: line 1 |cy", "NoName |"), ("line sum: line 1 ann, 1 |ann", "Twice |"), ("line sum: line 1 ann |1", "BadText |"),
-            ("line sum: line 1 ann,|", "BadText |"), ("line |line: line 1 ann", "BadText |"), ("line sum: line 1 ann|: ", "BadText |"),
-            ("open|", "BadText |"), ("open g|", "BadText |"), ("open g |1", "BadText |"), ("open g half |1", "BadText |"), ("open |line half", "BadText |"),
-            ("open |spread half", "BadText |"), ("open g|: half", "BadText |"), ("break|", "BadText |"), ("break half|", "BadText |"),
-            ("break half sum|", "BadText |"), ("break half |3", "BadText |"), ("break half sum |x", "BadText |"), ("break half sum 3 |3", "BadText |"),
-            ("off|", "BadText |"), ("off |1", "BadText |"), ("off sum |sum", "BadText |"), ("spread|", "BadText |"), ("spread sum |1", "BadText |"),
-            ("spread |/ ann up", "BadText |"), ("spread |up", "BadText |"),
+            desk, ("publisher half: |x := 1", "NoName |"), ("publisher half: cells |ann 0;", "Twice |"),
+            ("publisher half: show ann := |1000001", "BadNumber |"),
+            ("publisher half: each { |each {} }", "TooDeep |"), ("publisher half: show |it := 1", "NoName |"),
+            ("line sum: line |0 ann", "BadNumber |"), ("line sum: line 1 |cy", "NoName |"),
+            ("line sum: line 1 ann, 1 |ann", "Twice |"),
         )
 
     def test_words_of_rows_go_ahead_of_feeds(self):
         desk = self.desk()
-        self.refusals(
-            desk, ("publisher |up ann", "BadText |"), ("open |up ann", "BadText |"), ("break |down ann", "BadText |"), ("off |up ann", "BadText |"),
-            ("off report", "NoWord report"), ("spread audit |1", "BadText |"), ("publisher report|", "BadText |"), ("open report|", "BadText |"),
-            ("break report|", "BadText |"), ("off correct |1: ann up", "BadText |"),
+        self.bad_texts(
+            desk, "publisher |up ann", "open |up ann", "break |down ann", "off |up ann", "spread audit |1",
+            "publisher report|", "open report|", "break report|", "off correct |1: ann up",
         )
+        self.refusals(desk, ("off report", "NoWord report"))
 
     def test_no_room(self):
         desk = self.desk()
@@ -240,8 +253,9 @@ class RefusedTest(RowCase):
         for number in range(9):
             desk.row(f"open f{number} half")
         self.refusals(
-            desk, ("publisher x: ", "TooMany 21"), ("line x: line 1 ann", "TooMany 21"), ("open x half", "TooMany 11"), ("open f half", "Twice f"),
-            ("open x y", "NoWord y"), ("line x: line 1 |cy", "NoName |"),
+            desk, ("publisher x: ", "TooMany 21"), ("line x: line 1 ann", "TooMany 21"),
+            ("open x half", "TooMany 11"), ("open f half", "Twice f"), ("open x y", "NoWord y"),
+            ("line x: line 1 |cy", "NoName |"),
         )
         self.same(desk.row("publisher p3: show ann := 1"), "ok")
         self.same(desk.row("line l3: line 2 ann"), "ok")
@@ -254,26 +268,30 @@ class RefusedTest(RowCase):
 
     def test_texts(self):
         desk = self.desk()
-        self.refusals(desk, ("f up ann\n", "BadText 8"), ("f up ann 3" + " " * 19990 + "!", "BadText 20000"), ("\t", "BadText 0"))
+        self.refusals(
+            desk, ("f up ann\n", "BadText 8"), ("f up ann 3" + " " * 19990 + "!", "BadText 20000"),
+            ("\t", "BadText 0"),
+        )
         self.same(desk.row("f up ann 3" + " " * 19990), "ok")
         for wrong in (None, True, 0, (), ("f report",), nested("f", 49), b"f report"):
             self.same(desk.row(wrong), "refused: BadText -1")
 
     def test_all_words_are_read_ahead_of_anything_that_is_done_or_asked(self):
         desk = self.desk()
-        self.refusals(
-            desk, ("g up ann 3 |!", "BadText |"), ("f up ann 3|!", "BadText |"), ("open f x|!", "BadText |"), ("f audit 99999 |!", "BadText |"),
-            ("f correct 99: bob up|!", "BadText |"), ("break x y 99999 |z", "BadText |"), ("off x |y", "BadText |"), ("g report|.", "BadText |"),
-            ("publisher x: show ann := 1|!", "BadText |"), ("line x: line 1 ann|!", "BadText |"), ("open break half |half", "BadText |"),
-            ("g correct 0: bob up 5000, |bob up", "TooMany |"), ("g up |cy", "NoName |"),
+        self.bad_texts(
+            desk, "g up ann 3 |!", "f up ann 3|!", "open f x|!", "f audit 99999 |!", "f correct 99: bob up|!",
+            "break x y 99999 |z", "off x |y", "g report|.", "publisher x: show ann := 1|!", "line x: line 1 ann|!",
+            "open break half |half",
         )
+        self.refusals(desk, ("g correct 0: bob up 5000, |bob up", "TooMany |"), ("g up |cy", "NoName |"))
 
 
 class AnyTextTest(RowCase):
     def test_nothing_is_raised(self):
         chance = random.Random(60)
         rows = [row for row, _ in EXAMPLES] + [
-            "break half sum 3", "publisher p: cells c 1; each { if linked it { c := c + 1 } }", "line l: line -3 bob", "open g p", "g down bob 2",
+            "break half sum 3", "publisher p: cells c 1; each { if linked it { c := c + 1 } }", "line l: line -3 bob",
+            "open g p", "g down bob 2",
             "g report", "g audit 0", "break p l 2",
         ]
         signs = "abf 13:;,=<(){}[]+-*/!\n"
@@ -285,14 +303,16 @@ class AnyTextTest(RowCase):
                 words = re.findall("[a-z0-9]+|:=|[^ ]", row)
                 for _ in range(chance.randint(1, 3)):
                     at = chance.randrange(len(words) + 1)
-                    words[at:at + chance.randint(0, 2)] = [chance.choice(chance.choice(rows).split())] * chance.randint(0, 2)
+                    words[at:at + chance.randint(0,
+                        2)] = [chance.choice(chance.choice(rows).split())] * chance.randint(0, 2)
                 row = " ".join(words)
             if chance.random() < 0.2:
                 at = chance.randrange(len(row) + 1)
                 row = row[:at] + chance.choice(signs) + row[at + chance.randint(0, 1):]
             answer = desk.row(row)
             self.assertIsInstance(answer, str)
-            self.assertRegex(answer, "^(ok|none|[0-9]+|refused: [A-Za-z]+ .*|(ann shown|[0-9]+ (rule|stray)|spread|bound|rule) .*)$")
+            self.assertRegex(answer,
+                "^(ok|none|[0-9]+|refused: [A-Za-z]+ .*|(ann shown|[0-9]+ (rule|stray)|spread|bound|rule) .*)$")
             oks += answer == "ok"
         self.assertGreater(oks, 300)
 

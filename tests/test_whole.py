@@ -118,7 +118,8 @@ class WholeTest(Refusals):
             book = some_book(chance, 3, steps=(3,))
             names = part_names(book)
             for player in (
-                some_halves(chance, book), some_table(chance, book), program(book, names, read_publisher(book, names, TURNS)),
+                some_halves(chance, book), some_table(chance, book),
+                program(book, names, read_publisher(book, names, TURNS)),
             ):
                 history = some_history(chance, book, 30)
                 log = log_of(book, player, history)

@@ -51,6 +51,11 @@ class TextTest(WordCase):
 
     def test_all_other_signs_are_words(self):
         for reader, text in self.readers():
+            for code in range(32, 127):
+                sign = "".join(map(chr, (code,)))
+                if code != 37:
+                    # No sign is refused by itself, so the word ahead of it is.
+                    self.refused(BadText, 0, reader, "! " + sign)
             for code in range(33, 127):
                 sign = "".join(map(chr, (code,)))
                 if code != 37 and not sign.islower() and not sign.isdigit():
@@ -82,7 +87,8 @@ class PlaceTest(WordCase):
             end = len(text)
             with self.subTest(text):
                 self.refused(BadText, end + 1, reader, text + (";" if text.startswith(("parts", "show")) else ","))
-                self.refused(BadText, end + 6, reader, text + (" ;    " if text.startswith(("parts", "show")) else " ,    "))
+                self.refused(BadText, end + 6, reader, text + (" ;    " if text.startswith(("parts",
+                    "show")) else " ,    "))
         for reader in (read_book, of_names(read_line), of_names(read_paper)):
             self.refused(BadText, 0, reader, "")
             self.refused(BadText, 3, reader, "   ")
@@ -127,7 +133,8 @@ class KindTest(WordCase):
             self.same(read_history(BOOK, NAMES, "ann up " + right), ((0, 1),) * number)
         for out in ("0", "5001", "9999999", "1000000"):
             self.refused(BadNumber, 7, read_history, BOOK, NAMES, "ann up " + out)
-        for wrong in ("00", "01", "007", "10000000", "99999999", "1" * 1000, "1a", "a1", "-1", "+1", "1.0", "1 1", "0x1"):
+        for wrong in ("00", "01", "007", "10000000", "99999999", "1" * 1000, "1a", "a1", "-1", "+1", "1.0", "1 1",
+            "0x1"):
             with self.subTest(wrong):
                 self.history(9 if wrong == "1 1" else 8 if wrong == "1.0" else 7, "ann up " + wrong)
 
@@ -138,7 +145,8 @@ class KindTest(WordCase):
         self.refused(BadText, 5, read_line, BOOK, NAMES, "line 01 ann")
 
     def test_names(self):
-        for wrong in ("abcdefghijklm", "a" * 20, "1ann", "Ann", "Nann", "up", "line", "it", "and", "parts", "rule", "_a"):
+        for wrong in ("abcdefghijklm", "a" * 20, "1ann", "Ann", "Nann", "up", "line", "it", "and", "parts", "rule",
+            "_a"):
             with self.subTest(wrong):
                 self.refused(BadText, 7, read_line, BOOK, NAMES, "line 1 " + wrong)
         for none in ("abcdefghijkl", "a", "an", "anna", "ann1", "z9", "publisher", "audit", "feed"):
@@ -157,7 +165,8 @@ class KindTest(WordCase):
             self.history(0, reserved)
 
     def test_words_that_cannot_stand_anywhere(self):
-        for wrong in ("9a", "00", "abcdefghijklm", "12345678", "A", "!", "#", "&", "'", "\"", "@", "\\", "^", "_", "`", "|", "~",
+        for wrong in ("9a", "00", "abcdefghijklm", "12345678", "A", "!", "#", "&", "'", "\"", "@", "\\", "^", "_",
+            "`", "|", "~",
                       "?", ">", "$", "."):
             for reader, text in self.readers():
                 with self.subTest(wrong, text=text):
