@@ -143,6 +143,6 @@ def _check_room(kept, word):
 
 def _kept_by(kept, word):
     """What is kept by a word."""
-    if word not in kept:
+    if not isinstance(word, str) or word not in kept:
         raise NoWord(word)
     return kept[word]

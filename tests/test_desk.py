@@ -15,7 +15,7 @@ from byhalves.programs import program
 from byhalves.reports import report
 from programming import part_names, some_publisher
 from refusals import Refusals
-from values import some_book, some_line
+from values import nested, some_book, some_line
 
 BOOK = ((4, 4), ((0,), (1,)))
 NAMES = ("ann", "bob")
@@ -214,7 +214,7 @@ class FeedTest(DeskCase):
         self.refused(NoWord, "sum", desk.begin, "g", "sum")
         self.refused(NoWord, None, desk.begin, "g", None)
         self.refused(Twice, "f", desk.begin, "f", "still")
-        for wrong in ("g", "half", "sum", "", None, 0, True):
+        for wrong in ("g", "half", "sum", "", None, 0, True, (), nested("f", 49), ["f"], {}):
             self.refused(NoWord, wrong, desk.feed, wrong)
             self.refused(NoWord, wrong, desk.report, wrong)
             self.refused(NoWord, wrong, desk.wrongs, wrong, None)
